@@ -1,0 +1,68 @@
+"""What kind of value an object is: whole numbers, counts, names, hours, rows, paths."""
+
+from leafwaits.errors import InvalidCount, InvalidHours, InvalidWhole
+
+LONGEST_NAME = 8
+
+
+def is_whole(value):
+    """Whether an object is a whole number; True and False are none."""
+    return isinstance(value, int) and not isinstance(value, bool)
+
+
+def is_count(value):
+    """Whether an object is a whole number of at least 0."""
+    return is_whole(value) and value >= 0
+
+
+def is_name(value):
+    """Whether an object is a string of 1 to 8 signs a to z."""
+    if not isinstance(value, str) or not 1 <= len(value) <= LONGEST_NAME:
+        return False
+    return all(["a" <= sign <= "z" for sign in value])
+
+
+def is_hours(value, names):
+    """Whether an object is a dictionary from names to hours that has all of some names."""
+    if not isinstance(value, dict) or not all([is_name(key) for key in value]):
+        return False
+    return all([is_whole(hour) for hour in value.values()]) and all([name in value for name in names])
+
+
+def is_row(value):
+    """Whether an object is an ascending list, not empty, of tuples of different names and waits."""
+    if not isinstance(value, list) or not value or not all([_is_entry(entry) for entry in value]):
+        return False
+    return all([value[at - 1][0] < value[at][0] for at in range(1, len(value))])
+
+
+def _is_entry(value):
+    return isinstance(value, tuple) and len(value) == 2 and is_name(value[0]) and is_whole(value[1])
+
+
+def is_row_list(value):
+    """Whether an object is a list, not empty, of rows."""
+    return isinstance(value, list) and len(value) > 0 and all([is_row(row) for row in value])
+
+
+def is_path(value):
+    """Whether an object is a tuple of counts."""
+    return isinstance(value, tuple) and all([is_count(step) for step in value])
+
+
+def need_whole(value):
+    """Raises InvalidWhole unless an object is a whole number."""
+    if not is_whole(value):
+        raise InvalidWhole(value)
+
+
+def need_count_from(least, value):
+    """Raises InvalidCount unless an object is a count of at least some number."""
+    if not is_count(value) or value < least:
+        raise InvalidCount(value)
+
+
+def need_hours(value, names):
+    """Raises InvalidHours unless an object is hours of all of some names."""
+    if not is_hours(value, names):
+        raise InvalidHours(value)

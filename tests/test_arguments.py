@@ -1,0 +1,151 @@
+"""Points 2 and 5 at every function of these modules: the first wrong argument is the one that is told of."""
+
+import copy
+import unittest
+
+from leafwaits import books, errors, rows, rules
+from leafwaits.books import Book
+from leafwaits.rules import Rule
+from support import any_objects
+
+FLAT = Rule(("last", [("of", "ann", 1), ("of", "bob", 0)]))
+HUNG = Rule(("last", [("of", "ann", 1), ("now", "bob", 0)]))
+BOOK = Book([("ann", FLAT), ("bob", Rule(("of", "bob", 2)))])
+HOURS = {"ann": 3, "bob": 4}
+
+
+def is_rule(value):
+    return isinstance(value, Rule)
+
+
+def is_book(value):
+    return isinstance(value, Book)
+
+
+def is_whole(value):
+    return type(value) is int
+
+
+def is_count_from_1(value):
+    return type(value) is int and value >= 1
+
+
+# Each call: the function, and for each parameter its name, a right argument, what is right, and the error.
+RULE = ("rule", HUNG, is_rule, "InvalidRule")
+BARE = ("rule", FLAT, is_rule, "InvalidRule")
+ONE = ("one", FLAT, is_rule, "InvalidRule")
+OTHER = ("other", FLAT, is_rule, "InvalidRule")
+ONE_BOOK = ("one", BOOK, is_book, "InvalidBook")
+OTHER_BOOK = ("other", BOOK, is_book, "InvalidBook")
+ANY_BOOK = ("book", BOOK, is_book, "InvalidBook")
+MANY = ("many", 2, is_count_from_1, "InvalidCount")
+ROW_LIST = ("some", [[("ann", 1)]], lambda value: value == [[("ann", 1)]], "InvalidRows")
+ALL_HOURS = ("hours", HOURS, lambda value: False, "InvalidHours")
+
+
+def is_table(value):
+    return isinstance(value, dict) and (not value or isinstance(value.get("ann"), Rule))
+
+
+CALLS = [
+    (rules.told, [RULE, ("hours", HOURS, lambda value: value == {"ann": 1} and value["ann"] is not True
+                         or value == {"ann": 1, "bob": 1}, "InvalidHours"),
+                  ("now", HOURS, lambda value: False, "InvalidHours")]),
+    (rules.named, [RULE]),
+    (rules.shifted, [RULE, ("by", 2, is_whole, "InvalidWhole")]),
+    (rules.mirrored, [RULE]),
+    (rules.put_in, [RULE, ("rules", {"ann": FLAT}, is_table, "InvalidRules")]),
+    (rules.parts, [RULE]),
+    (rules.waited, [RULE, ("path", (0,), lambda value: value == (0,) and value[0] is not False, "InvalidPath"),
+                    ("wait", 2, is_whole, "InvalidWhole")]),
+    (rules.left_out, [RULE, ("paths", [(0,)], lambda value: value == [] or value == [(0,)], "InvalidPath")]),
+    (rows.rows, [BARE]),
+    (rows.matters, [BARE]),
+    (rows.columns, [BARE]),
+    (rows.of_rows, [ROW_LIST]),
+    (rows.of_columns, [ROW_LIST]),
+    (rows.never_behind, [ONE, OTHER]),
+    (rows.alike, [ONE, OTHER]),
+    (rows.parting, [ONE, OTHER]),
+    (rows.check_parting, [ONE, OTHER, ("value", None, lambda value: True, None)]),
+    (rows.reasons, [ONE, OTHER]),
+    (rows.is_reasons, [ONE, OTHER, ("value", None, lambda value: True, None)]),
+    (rows.telling, [BARE, ALL_HOURS]),
+    (rows.alone, [BARE, ("row", [("ann", 1), ("bob", 0)], lambda value: False, "InvalidRows")]),
+    (rows.slack, [BARE]),
+    (rows.lean, [BARE]),
+    (books.hours_behind, [ANY_BOOK, ALL_HOURS]),
+    (books.flat, [ANY_BOOK]),
+    (books.then, [ONE_BOOK, OTHER_BOOK]),
+    (books.after, [ANY_BOOK, MANY]),
+    (books.beside, [ONE_BOOK, ("other", Book([("cy", Rule(("of", "cy", 0)))]), is_book, "InvalidBook")]),
+    (books.renamed, [ANY_BOOK, ("names", {"ann": "bob", "bob": "ann"}, lambda value: value in [{}, {"ann": "ann"}],
+                                "InvalidNames")]),
+    (books.turned_about, [ANY_BOOK]),
+    (books.alike_books, [ONE_BOOK, OTHER_BOOK]),
+    (books.parting_after, [ONE_BOOK, OTHER_BOOK, MANY]),
+    (books.check_parting_after, [ONE_BOOK, OTHER_BOOK, MANY, ("value", None, lambda value: True, None)]),
+    (books.alike_from, [ONE_BOOK, OTHER_BOOK, ("most", 2, is_count_from_1, "InvalidCount")]),
+]
+
+
+class ArgumentsTest(unittest.TestCase):
+    def check_raises(self, call, arguments, name, error):
+        with self.assertRaises(errors.LeafError) as caught:
+            call(**arguments)
+        self.assertEqual(type(caught.exception).__name__, error, (call.__name__, name, arguments[name]))
+        self.assertIs(caught.exception.value, arguments[name])
+
+    def test_right_arguments_by_name_and_by_position(self):
+        for call, parameters in CALLS:
+            arguments = {name: right for name, right, _, _ in parameters}
+            call(**arguments)
+            call(*arguments.values())
+
+    def test_wrong_arguments(self):
+        for call, parameters in CALLS:
+            for at, (name, _, is_right, error) in enumerate(parameters):
+                for value in any_objects():
+                    if is_right(value):
+                        continue
+                    arguments = {parameter[0]: parameter[1] for parameter in parameters}
+                    arguments[name] = value
+                    self.check_raises(call, arguments, name, error)
+                    arguments.update({parameter[0]: [None] for parameter in parameters[at + 1:]})
+                    self.check_raises(call, arguments, name, error)
+
+    def test_not_flat(self):
+        asked = 0
+        for call, parameters in CALLS:
+            for at, parameter in enumerate(parameters):
+                if parameter[0] in ("rule", "one", "other") and parameter[1] is FLAT:
+                    arguments = {other[0]: other[1] for other in parameters[:at]}
+                    arguments.update({other[0]: [None] for other in parameters[at:]})
+                    arguments[parameter[0]] = HUNG
+                    self.check_raises(call, arguments, parameter[0], "NotFlat")
+                    asked += 1
+        self.assertEqual(asked, 19)
+
+    def test_nothing_is_changed(self):
+        for call, parameters in CALLS:
+            arguments = {name: right for name, right, _, _ in parameters}
+            before = [readable(value) for value in arguments.values()]
+            first = repr(readable(call(**arguments)))
+            with self.assertRaises(errors.LeafError):
+                call(**dict(arguments, **{parameters[0][0]: None}))
+            self.assertEqual(repr([readable(value) for value in arguments.values()]), repr(before))
+            self.assertEqual(repr(readable(call(**arguments))), first)
+
+
+def readable(value):
+    if isinstance(value, Rule):
+        return value.term()
+    if isinstance(value, Book):
+        return [(name, value.rule(name).term()) for name in value.names()]
+    if isinstance(value, dict):
+        return {key: readable(inner) for key, inner in value.items()}
+    return copy.deepcopy(value)
+
+
+if __name__ == "__main__":
+    unittest.main()
