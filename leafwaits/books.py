@@ -1,13 +1,15 @@
 """Books: a rule for each of some scribes."""
 
 from leafwaits.canon import canonical_rows, plain_rows
-from leafwaits.checks import is_hours, is_name, need_count_from, need_hours
+from leafwaits.checks import is_hours, is_name, is_one_of, need_count_from, need_hours, need_one_of
 from leafwaits.errors import InvalidBook, InvalidName, InvalidNames, InvalidRule, InvalidRules
-from leafwaits.errors import StillNeeded, TakenName, UnknownName, Unlike
-from leafwaits.rings import hanging_order, shortest_ring
-from leafwaits.rows import of_rows, parting
-from leafwaits.rules import Rule, mirrored, named, told
+from leafwaits.errors import StillNeeded, TakenName, Unlike
+from leafwaits.gaps import hours_parting
+from leafwaits.rings import shortest_ring
+from leafwaits.rows import of_rows
+from leafwaits.rules import Rule, mirrored, named
 from leafwaits.terms import rebuilt
+from leafwaits.turns import hours_along, next_hours, turns_of
 
 
 class Book:
@@ -24,14 +26,12 @@ class Book:
 
     def rule(self, name):
         """The rule of a scribe."""
-        if not _is_one_of(name, self._rules):
-            raise UnknownName(name)
+        need_one_of(name, self._rules)
         return self._rules[name]
 
     def changed(self, name, rule):
         """The book in which a scribe has another rule."""
-        if not _is_one_of(name, self._rules):
-            raise UnknownName(name)
+        need_one_of(name, self._rules)
         return _book_with(self, name, rule)
 
     def with_scribe(self, name, rule):
@@ -44,8 +44,7 @@ class Book:
 
     def without(self, name):
         """The book without a scribe."""
-        if not _is_one_of(name, self._rules):
-            raise UnknownName(name)
+        need_one_of(name, self._rules)
         rules = [(other, rule) for other, rule in self._rules.items() if other != name]
         if not rules or not _makes_book(rules):
             raise StillNeeded(name)
@@ -56,10 +55,6 @@ class Book:
 
     def __eq__(self, other):
         return isinstance(other, Book) and self._rules == other._rules
-
-
-def _is_one_of(name, names):
-    return is_name(name) and name in names
 
 
 def _is_rule_list(value):
@@ -87,7 +82,8 @@ def _hung_of(rules):
     return {name: named(rule)[1] for name, rule in rules}
 
 
-def _rules_of(book):
+def rules_of(book):
+    """The list of the tuples of a name and its rule, in ascending order."""
     return [(name, book.rule(name)) for name in book.names()]
 
 
@@ -95,7 +91,7 @@ def _book_with(book, name, rule):
     """The book in which a scribe, perhaps a new one, has a rule."""
     if not isinstance(rule, Rule):
         raise InvalidRule(rule)
-    rules = [pair for pair in _rules_of(book) if pair[0] != name] + [(name, rule)]
+    rules = [pair for pair in rules_of(book) if pair[0] != name] + [(name, rule)]
     if not _makes_book(rules):
         raise InvalidRule(rule)
     return Book(rules)
@@ -125,40 +121,37 @@ def hours_behind(book, hours):
     """The hours of the next round."""
     need_book(book)
     need_hours(hours, book.names())
-    now = {}
-    for name in hanging_order(_hung_of(_rules_of(book))):
-        now[name] = told(book.rule(name), hours, now)
-    return {name: now[name] for name in book.names()}
+    return next_hours(turns_of(rules_of(book)), hours, {})
 
 
 def flat(book):
     """The book that has the same hours behind, each scribe's rule in the one form of its canonical rows."""
     need_book(book)
-    return _book_of_rows(_rows_after(book, 1))
+    return _book_of_rows(rows_after(book, 1))
 
 
 def then(one, other):
     """The book of a round of one book, and then a round of the other one."""
     _need_like_books(one, other)
-    return _book_of_rows(_rows_behind(other, _rows_after(one, 1)))
+    return _book_of_rows(_rows_behind(other, rows_after(one, 1)))
 
 
 def after(book, many):
     """The book of so many rounds of a book."""
     need_book(book)
     need_count_from(1, many)
-    return _book_of_rows(_rows_after(book, many))
+    return _book_of_rows(rows_after(book, many))
 
 
 def _rows_behind(book, before):
     """For each scribe the canonical rows of its hour behind a round, given those of the hours of the round before."""
     now = {}
-    for name in hanging_order(_hung_of(_rules_of(book))):
-        now[name] = canonical_rows(book.rule(name).term(), before, now)
+    for name, term in turns_of(rules_of(book)):
+        now[name] = canonical_rows(term, before, now)
     return now
 
 
-def _rows_after(book, many):
+def rows_after(book, many):
     """For each scribe the canonical rows of its hour behind so many rounds."""
     found = plain_rows(book.names())
     for _ in range(many):
@@ -177,7 +170,7 @@ def beside(one, other):
     taken = [name for name in one.names() if name in other.names()]
     if taken:
         raise TakenName(taken[0])
-    return Book(_rules_of(one) + _rules_of(other))
+    return Book(rules_of(one) + rules_of(other))
 
 
 def renamed(book, names):
@@ -185,7 +178,7 @@ def renamed(book, names):
     need_book(book)
     if not _is_renaming(names):
         raise InvalidNames(names)
-    return Book([(names.get(name, name), _renamed_rule(rule, names)) for name, rule in _rules_of(book)])
+    return Book([(names.get(name, name), _renamed_rule(rule, names)) for name, rule in rules_of(book)])
 
 
 def _is_renaming(value):
@@ -203,25 +196,24 @@ def _renamed_rule(rule, names):
 def turned_about(book):
     """The book of the rules read from the other end of time."""
     need_book(book)
-    return Book([(name, mirrored(rule)) for name, rule in _rules_of(book)])
+    return Book([(name, mirrored(rule)) for name, rule in rules_of(book)])
 
 
 def alike_books(one, other):
     """Whether two books have the same hours behind for all hours."""
     _need_like_books(one, other)
-    return _rows_after(one, 1) == _rows_after(other, 1)
+    return rows_after(one, 1) == rows_after(other, 1)
 
 
 def parting_after(one, other, many):
     """Any scribe and hours from which on it has unlike hours behind so many rounds, None if there are none."""
     _need_like_books(one, other)
     need_count_from(1, many)
-    found = _rows_after(one, many)
-    others = _rows_after(other, many)
+    found = rows_after(one, many)
+    others = rows_after(other, many)
     for name in one.names():
         if found[name] != others[name]:
-            hours = parting(of_rows(found[name]), of_rows(others[name]))
-            return (name, {scribe: hours.get(scribe, 0) for scribe in one.names()})
+            return (name, hours_parting(found[name], others[name], one.names()))
     return None
 
 
@@ -229,18 +221,13 @@ def check_parting_after(one, other, many, value):
     """Whether an object is a scribe and hours from which on it has unlike hours behind so many rounds."""
     _need_like_books(one, other)
     need_count_from(1, many)
-    if not isinstance(value, tuple) or len(value) != 2 or not _is_one_of(value[0], one.names()):
+    if not isinstance(value, tuple) or len(value) != 2 or not is_one_of(value[0], one.names()):
         return False
     name, hours = value
     if not is_hours(hours, one.names()) or len(hours) > len(one):
         return False
-    return _hours_after(one, hours, many)[name] != _hours_after(other, hours, many)[name]
-
-
-def _hours_after(book, hours, many):
-    for _ in range(many):
-        hours = hours_behind(book, hours)
-    return hours
+    behind = [hours_along(turns_of(rules_of(book)), hours, many)[many][name] for book in [one, other]]
+    return behind[0] != behind[1]
 
 
 def alike_from(one, other, most):

@@ -1,6 +1,6 @@
 """What kind of value an object is: whole numbers, counts, names, hours, rows, paths."""
 
-from leafwaits.errors import InvalidCount, InvalidHours, InvalidWhole
+from leafwaits.errors import InvalidCount, InvalidHours, InvalidWhole, UnknownName
 
 LONGEST_NAME = 8
 
@@ -20,6 +20,11 @@ def is_name(value):
     if not isinstance(value, str) or not 1 <= len(value) <= LONGEST_NAME:
         return False
     return all(["a" <= sign <= "z" for sign in value])
+
+
+def is_one_of(value, names):
+    """Whether an object is one of some names."""
+    return is_name(value) and value in names
 
 
 def is_hours(value, names):
@@ -60,6 +65,19 @@ def need_count_from(least, value):
     """Raises InvalidCount unless an object is a count of at least some number."""
     if not is_count(value) or value < least:
         raise InvalidCount(value)
+
+
+def need_count_within(least, most, value):
+    """Raises InvalidCount unless an object is a count from one number to another one."""
+    need_count_from(least, value)
+    if value > most:
+        raise InvalidCount(value)
+
+
+def need_one_of(value, names):
+    """Raises UnknownName unless an object is one of some names."""
+    if not is_one_of(value, names):
+        raise UnknownName(value)
 
 
 def need_hours(value, names):

@@ -73,6 +73,8 @@ class Ladders:
         """The least masks of the rows that a rank has, given those of each of its terms."""
         if rank == 1:
             return self.least([mask for masks in lists for mask in masks])
+        if rank == len(lists):
+            return self._all_joined(lists)
         # What is kept after some terms: for each number of terms chosen among them, the rows of these choices.
         kept = {0: [0]}
         left = len(lists)
@@ -86,6 +88,27 @@ class Ladders:
                 following[chosen] = self.least(found)
             kept = following
         return kept[rank]
+
+    def _all_joined(self, lists):
+        # What all rows of one list have stands in whatever comes out. Put into all rows ahead of all joining, it
+        # leaves few of them; the shortest lists come first, as they leave the fewest rows to go on with.
+        if [] in lists:
+            return []
+        floor = 0
+        for masks in lists:
+            floor = floor | _shared(masks)
+        raised = [self.least([mask | floor for mask in masks]) for masks in lists]
+        found = [floor]
+        for masks in sorted(raised, key=len):
+            found = self.joined(found, masks)
+        return found
+
+
+def _shared(masks):
+    shared = masks[0]
+    for mask in masks:
+        shared = shared & mask
+    return shared
 
 
 def _settled_and_bare(masks, others):

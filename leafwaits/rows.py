@@ -5,6 +5,7 @@ from itertools import combinations
 from leafwaits.canon import canonical_rows, least_rows, lies_within, negated, plain_rows, rule_over
 from leafwaits.checks import is_hours, is_row, is_row_list, need_hours
 from leafwaits.errors import InvalidRows
+from leafwaits.gaps import hours_behind_row, hours_for_row, hours_parting, unmet_row
 from leafwaits.rules import left_out, mirrored, named, need_flat, parts, told
 from leafwaits.terms import replaced
 
@@ -47,7 +48,7 @@ def never_behind(one, other):
     """Whether at all hours one rule tells at most what another one tells."""
     need_flat(one)
     need_flat(other)
-    return _row_ahead_of_all(rows(one), rows(other)) is None
+    return unmet_row(rows(one), rows(other)) is None
 
 
 def alike(one, other):
@@ -61,8 +62,7 @@ def parting(one, other):
     """Any hours at which two rules do not tell the same, None if there are none."""
     need_flat(one)
     need_flat(other)
-    hours = _hours_behind(one, other)
-    return _hours_behind(other, one) if hours is None else hours
+    return hours_parting(rows(one), rows(other), _names_of(one, other))
 
 
 def check_parting(one, other, value):
@@ -76,11 +76,12 @@ def reasons(one, other):
     """Why one rule is never behind another one, or hours at which it is."""
     need_flat(one)
     need_flat(other)
-    hours = _hours_behind(one, other)
+    own = rows(one)
+    others = rows(other)
+    hours = hours_behind_row(own, others, _names_of(one, other))
     if hours is not None:
         return ("behind", hours)
-    own = rows(one)
-    return ("never", [(row, [inner for inner in own if lies_within(inner, row)][0]) for row in rows(other)])
+    return ("never", [(row, [inner for inner in own if lies_within(inner, row)][0]) for row in others])
 
 
 def is_reasons(one, other, value):
@@ -108,7 +109,7 @@ def alone(rule, row):
     known = rows(rule)
     if not is_row(row) or row not in known:
         raise InvalidRows(row)
-    return _hours_for(row, [other for other in known if other != row], named(rule)[0])
+    return hours_for_row(row, [other for other in known if other != row], named(rule)[0])
 
 
 def slack(rule):
@@ -134,31 +135,6 @@ def lean(rule):
 
 def _names_of(one, other):
     return sorted(set(named(one)[0] + named(other)[0]))
-
-
-def _row_ahead_of_all(some, others):
-    """The first of the other rows within which none of some rows lies, None if there is none."""
-    for row in others:
-        if not any([lies_within(inner, row) for inner in some]):
-            return row
-    return None
-
-
-def _hours_behind(one, other):
-    """Any hours at which one rule tells more than another one, None if there are none."""
-    some = rows(one)
-    row = _row_ahead_of_all(some, rows(other))
-    return None if row is None else _hours_for(row, some, _names_of(one, other))
-
-
-def _hours_for(row, others, names):
-    """Hours of some names at which a row tells 0, and all others, of which none lies within it, tell more."""
-    hours = {name: 1 for name in names}
-    for name, wait in [entry for other in others for entry in other]:
-        hours[name] = max(hours[name], 1 - wait)
-    for name, wait in row:
-        hours[name] = -wait
-    return hours
 
 
 def _are_pairs(some, others, value):

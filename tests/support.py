@@ -5,7 +5,8 @@ import random
 
 from leafwaits.books import Book
 from leafwaits.errors import LeafError
-from leafwaits.rules import Rule
+from leafwaits.rules import Rule, named
+from leafwaits.stairs import Stair
 
 
 def random_term(rng, parts, names, nows=(), waits=5, depth=3):
@@ -82,6 +83,21 @@ def told_by_definition(term, hours, now):
     return told[0] if term[0] == "first" else told[-1]
 
 
+def behind_by_definition(book, hours):
+    this = {}
+    while len(this) < len(book):
+        for name in book.names():
+            if name not in this and all(other in this for other in named(book.rule(name))[1]):
+                this[name] = told_by_definition(book.rule(name).term(), hours, this)
+    return this
+
+
+def rounds_by_definition(book, hours, many):
+    for _ in range(many):
+        hours = behind_by_definition(book, hours)
+    return hours
+
+
 def row_hour(row, hours):
     return max(hours[name] + wait for name, wait in row)
 
@@ -103,7 +119,8 @@ def any_objects():
         ("rank", 0, [("of", "ann", 1)]), ("rank", True, [("of", "ann", 1)]), {}, {"ann": 1}, {"ann": True},
         {"ann": "ann"}, {"ann": "bob"}, {"ann": "bob", "bob": "bob"}, {"ann": rule}, {"Ann": rule}, {1: 2},
         {("ann", 1): 1}, {"ann": 1, "Bob": 1}, {"ann": 1, "bob": None}, {None: None}, [[[[[[{}]]]]]],
-        rule, now_rule, Book([("ann", rule)]), Book([("zed", Rule(("of", "zed", 0)))]), LeafError(),
+        rule, now_rule, Book([("ann", rule)]), Book([("zed", Rule(("of", "zed", 0)))]), LeafError(), Stair(0, [0]),
+        Stair(-1, []), [Stair(0, [])], (Stair(0, []),), [0, 1], [1, 0], [0, 0], [-1], [True], {"ann": -1}, {"zed": 1},
     ]
 
 

@@ -1,11 +1,13 @@
 """Points 2 and 5 at every function of these modules: the first wrong argument is the one that is told of."""
 
 import copy
+import re
 import unittest
 
-from leafwaits import books, errors, rows, rules
+from leafwaits import books, errors, late, latebook, rounds, rows, rules, stairs
 from leafwaits.books import Book
 from leafwaits.rules import Rule
+from leafwaits.stairs import Stair
 from support import any_objects
 
 FLAT = Rule(("last", [("of", "ann", 1), ("of", "bob", 0)]))
@@ -30,6 +32,42 @@ def is_count_from_1(value):
     return type(value) is int and value >= 1
 
 
+def is_name(value):
+    return isinstance(value, str) and re.fullmatch("[a-z]{1,8}", value) is not None
+
+
+def is_hours_of(*names):
+    def is_right(value):
+        return (isinstance(value, dict) and all(is_name(key) and type(value[key]) is int for key in value)
+                and all(name in value for name in names))
+    return is_right
+
+
+def is_lates(value):
+    return is_hours_of()(value) and all(key in ("ann", "bob") for key in value)
+
+
+def is_count_within(least, most):
+    return lambda value: type(value) is int and least <= value <= most
+
+
+def is_stair(value):
+    return isinstance(value, Stair)
+
+
+def is_stair_list(value):
+    return isinstance(value, list) and 1 <= len(value) <= 6 and all(is_stair(stair) for stair in value)
+
+
+def is_corners(value):
+    return (isinstance(value, list) and all(type(corner) is int and corner >= 0 for corner in value)
+            and value == sorted(set(value)))
+
+
+def is_scribe(value):
+    return isinstance(value, str) and value in ("ann", "bob")
+
+
 # Each call: the function, and for each parameter its name, a right argument, what is right, and the error.
 RULE = ("rule", HUNG, is_rule, "InvalidRule")
 BARE = ("rule", FLAT, is_rule, "InvalidRule")
@@ -40,7 +78,15 @@ OTHER_BOOK = ("other", BOOK, is_book, "InvalidBook")
 ANY_BOOK = ("book", BOOK, is_book, "InvalidBook")
 MANY = ("many", 2, is_count_from_1, "InvalidCount")
 ROW_LIST = ("some", [[("ann", 1)]], lambda value: value == [[("ann", 1)]], "InvalidRows")
-ALL_HOURS = ("hours", HOURS, lambda value: False, "InvalidHours")
+ALL_HOURS = ("hours", HOURS, is_hours_of("ann", "bob"), "InvalidHours")
+ANY_NUMBER = ("number", 1, is_whole, "InvalidWhole")
+ANY_VALUE = ("value", None, lambda value: True, None)
+LATES = ("lates", {"bob": 2}, is_lates, "InvalidLates")
+NAME = ("name", "ann", is_scribe, "UnknownName")
+WHO = ("who", "bob", is_scribe, "UnknownName")
+ROUND = ("many", 2, is_count_within(1, 3), "InvalidCount")
+ROUND_FROM_0 = ("many", 2, is_count_within(0, 10 ** 31), "InvalidCount")
+ONE_STAIR = ("one", Stair(2, [1]), lambda value: is_stair(value) and value.begin >= 0, "InvalidStair")
 
 
 def is_table(value):
@@ -48,9 +94,8 @@ def is_table(value):
 
 
 CALLS = [
-    (rules.told, [RULE, ("hours", HOURS, lambda value: value == {"ann": 1} and value["ann"] is not True
-                         or value == {"ann": 1, "bob": 1}, "InvalidHours"),
-                  ("now", HOURS, lambda value: False, "InvalidHours")]),
+    (rules.told, [RULE, ("hours", HOURS, is_hours_of("ann"), "InvalidHours"),
+                  ("now", HOURS, is_hours_of("bob"), "InvalidHours")]),
     (rules.named, [RULE]),
     (rules.shifted, [RULE, ("by", 2, is_whole, "InvalidWhole")]),
     (rules.mirrored, [RULE]),
@@ -85,13 +130,53 @@ CALLS = [
     (books.alike_books, [ONE_BOOK, OTHER_BOOK]),
     (books.parting_after, [ONE_BOOK, OTHER_BOOK, MANY]),
     (books.check_parting_after, [ONE_BOOK, OTHER_BOOK, MANY, ("value", None, lambda value: True, None)]),
+    (rounds.run, [ANY_BOOK, ALL_HOURS, ROUND_FROM_0]),
+    (rounds.hours_after, [ANY_BOOK, ALL_HOURS, ROUND_FROM_0]),
+    (rounds.first_round, [ANY_BOOK, ALL_HOURS, NAME, ("hour", 9, is_whole, "InvalidWhole"),
+                          ("most", 2, ROUND_FROM_0[2], "InvalidCount")]),
+    (rounds.meeting, [ANY_BOOK, ("one",) + ALL_HOURS[1:], ("other",) + ALL_HOURS[1:],
+                      ("most", 2, ROUND_FROM_0[2], "InvalidCount")]),
+    (latebook.late_rule, [BARE]),
+    (latebook.is_late_rule, [BARE]),
+    (latebook.same_lates, [ONE, OTHER]),
+    (latebook.parting_lates, [ONE, OTHER]),
+    (latebook.late_book, [ANY_BOOK]),
+    (latebook.late_after, [ANY_BOOK, MANY]),
+    (latebook.over_told, [ANY_BOOK, MANY]),
+    (latebook.whole_names, [BARE]),
+    (latebook.harmless, [BARE, ("most", -3, is_whole, "InvalidWhole")]),
+    (late.late_at, [ANY_BOOK, LATES, ALL_HOURS, ("many", 2, is_count_within(0, 30), "InvalidCount")]),
+    (late.most_late, [ANY_BOOK, LATES, NAME, ROUND]),
+    (late.least_late, [ANY_BOOK, LATES, NAME, ROUND]),
+    (late.late_hours, [ANY_BOOK, LATES, NAME, ROUND, ANY_NUMBER]),
+    (late.late_stair, [ANY_BOOK, WHO, NAME, ROUND]),
+    (late.reached, [ANY_BOOK, WHO, ROUND]),
+    (late.held_late, [ANY_BOOK, LATES, NAME, ROUND, ("held", ["bob"], lambda value: value in [[], ["ann"], ["ann", "bob"]],
+                                                     "InvalidNames")]),
+    (late.stopping, [ANY_BOOK, WHO, NAME, ROUND]),
+    (late.can_ever, [ANY_BOOK, WHO, NAME]),
+    (late.is_can_ever, [ANY_BOOK, WHO, NAME, ANY_VALUE]),
+    (stairs.Stair, [("begin", -2, is_whole, "InvalidWhole"),
+                    ("corners", [0, 2], is_corners, "InvalidCorners")]),
+    (stairs.Stair(1, [2]).value, [("count", 3, is_count_within(0, 10 ** 31), "InvalidCount")]),
+    (stairs.Stair(1, [2]).undone, [ANY_NUMBER]),
+    (stairs.Stair(1, [2]).shifted, [("by", -2, is_whole, "InvalidWhole")]),
+    (stairs.first_of, [("stairs", [Stair(0, [1])], is_stair_list, "InvalidStair")]),
+    (stairs.last_of, [("stairs", [Stair(0, [1])], is_stair_list, "InvalidStair")]),
+    (stairs.rank_of, [("number", 1, is_count_from_1, "InvalidCount"),
+                      ("stairs", [Stair(0, [1]), Stair(0, [])], is_stair_list, "InvalidStair")]),
+    (stairs.put_behind, [ONE_STAIR, ("other", Stair(-2, [1]), is_stair, "InvalidStair")]),
+    (stairs.first_unlike, [("one", Stair(-2, []), is_stair, "InvalidStair"),
+                           ("other", Stair(-2, [1]), is_stair, "InvalidStair")]),
+    (stairs.widest_stair, [("one", Stair(-2, []), is_stair, "InvalidStair"),
+                           ("other", Stair(-2, [1]), is_stair, "InvalidStair")]),
     (books.alike_from, [ONE_BOOK, OTHER_BOOK, ("most", 2, is_count_from_1, "InvalidCount")]),
 ]
 
 
 class ArgumentsTest(unittest.TestCase):
     def check_raises(self, call, arguments, name, error):
-        with self.assertRaises(errors.LeafError) as caught:
+        with self.assertRaises(errors.LeafError, msg=(call.__name__, name, arguments[name])) as caught:
             call(**arguments)
         self.assertEqual(type(caught.exception).__name__, error, (call.__name__, name, arguments[name]))
         self.assertIs(caught.exception.value, arguments[name])
@@ -124,7 +209,7 @@ class ArgumentsTest(unittest.TestCase):
                     arguments[parameter[0]] = HUNG
                     self.check_raises(call, arguments, parameter[0], "NotFlat")
                     asked += 1
-        self.assertEqual(asked, 19)
+        self.assertEqual(asked, 27)
 
     def test_nothing_is_changed(self):
         for call, parameters in CALLS:
@@ -140,6 +225,10 @@ class ArgumentsTest(unittest.TestCase):
 def readable(value):
     if isinstance(value, Rule):
         return value.term()
+    if isinstance(value, Stair):
+        return (value.begin, value.corners)
+    if isinstance(value, (tuple, list)):
+        return type(value)(readable(inner) for inner in value)
     if isinstance(value, Book):
         return [(name, value.rule(name).term()) for name in value.names()]
     if isinstance(value, dict):

@@ -9,7 +9,7 @@ from leafwaits.errors import InvalidCount, InvalidHours, InvalidName, InvalidNam
 from leafwaits.errors import StillNeeded, TakenName, UnknownName, Unlike
 from leafwaits.rows import of_rows, rows
 from leafwaits.rules import Rule, mirrored, named
-from support import any_objects, random_book, random_hours, seeded, told_by_definition
+from support import any_objects, behind_by_definition, random_book, random_hours, rounds_by_definition, seeded
 
 LONG = 10 ** 29 + 7
 
@@ -24,21 +24,6 @@ def now(name, wait=0):
 
 def hanging(*names):
     return Rule(("last", [("now", name, 0) for name in names]))
-
-
-def behind_by_definition(book, hours):
-    this = {}
-    while len(this) < len(book):
-        for name in book.names():
-            if name not in this and all(other in this for other in named(book.rule(name))[1]):
-                this[name] = told_by_definition(book.rule(name).term(), hours, this)
-    return this
-
-
-def rounds(book, hours, many):
-    for _ in range(many):
-        hours = behind_by_definition(book, hours)
-    return hours
 
 
 def books(number, many=40, names="abc", parts=4, waits=4):
@@ -230,7 +215,7 @@ class RoundsTest(unittest.TestCase):
             self.assertTrue(is_in_form(both))
             for _ in range(5):
                 hours = random_hours(rng, "abc")
-                self.assertEqual(hours_behind(both, hours), rounds(other, rounds(one, hours, 1), 1))
+                self.assertEqual(hours_behind(both, hours), rounds_by_definition(other, rounds_by_definition(one, hours, 1), 1))
 
     def test_after(self):
         for book, rng in books(7, 25):
@@ -241,7 +226,7 @@ class RoundsTest(unittest.TestCase):
                 self.assertTrue(is_in_form(late))
                 for _ in range(3):
                     hours = random_hours(rng, book.names())
-                    self.assertEqual(hours_behind(late, hours), rounds(book, hours, many))
+                    self.assertEqual(hours_behind(late, hours), rounds_by_definition(book, hours, many))
         for many in [0, -1, True, False, None, "1", [1]]:
             with self.assertRaises(InvalidCount) as caught:
                 after(book, many)
@@ -325,7 +310,7 @@ class AlikeBooksTest(unittest.TestCase):
                 if value is not None:
                     name, hours = value
                     self.assertEqual(sorted(hours), one.names())
-                    self.assertNotEqual(rounds(one, hours, many)[name], rounds(other, hours, many)[name])
+                    self.assertNotEqual(rounds_by_definition(one, hours, many)[name], rounds_by_definition(other, hours, many)[name])
                     self.assertIs(check_parting_after(one, other, many, value), True)
         self.assertEqual(len(answers), 2)
 

@@ -1,4 +1,4 @@
-"""The examples of sections 3, 4 and 5 of the document, as they stand there."""
+"""The examples of sections 3 to 9 of the document, as they stand there."""
 
 import unittest
 
@@ -51,6 +51,73 @@ same = Book([("ann", Rule(("of", "ann", 0))), ("bob", Rule(("of", "bob", 0)))])
 # [True, None, None, True, True, ['ann', 'bob']]
 '''
 
+ROUNDS = '''
+from leafwaits.books import Book
+from leafwaits.rounds import first_round, hours_after, meeting, run
+from leafwaits.rules import Rule
+ann = Rule(("last", [("of", "ann", 2), ("of", "bob", 0)]))
+bob = Rule(("first", [("of", "ann", 1), ("of", "cy", 3)]))
+cy = Rule(("of", "ann", 0))
+book, nought = Book([("ann", ann), ("bob", bob), ("cy", cy)]), {"ann": 0, "bob": 0, "cy": 0}
+[run(book, nought, 3)[1:] == [{"ann": 2, "bob": 1, "cy": 0}, {"ann": 4, "bob": 3, "cy": 2}, {"ann": 6, "bob": 5, "cy": 4}], len(run(book, nought, 3)), hours_after(book, nought, 3) == run(book, nought, 3)[3]]
+# [True, 4, True]
+[first_round(book, nought, "cy", 3, 9), first_round(book, nought, "cy", 100, 9), first_round(book, nought, "ann", -5, 0), meeting(book, nought, {"ann": 5, "bob": 9, "cy": 5}, 9), meeting(book, nought, {"ann": 5, "bob": 9, "cy": 5}, 2)]
+# [3, None, 0, (3, 7), None]
+'''
+
+LATE_BOOK = '''
+from leafwaits.books import Book, after
+from leafwaits.latebook import harmless, is_late_rule, late_after, late_book, late_rule, over_told, parting_lates
+from leafwaits.latebook import same_lates, whole_names
+from leafwaits.rows import rows
+from leafwaits.rules import Rule, told
+last = Rule(("last", [("of", "a", 3), ("of", "b", 0)]))
+first = Rule(("first", [("of", "a", 3), ("of", "b", 0)]))
+[rows(late_rule(last)), rows(late_rule(first)), same_lates(last, first), parting_lates(last, first), is_late_rule(last)]
+# [[[('a', 0), ('b', 0)]], [[('a', 0), ('b', 0)]], True, None, False]
+spare = Rule(("first", [("last", [("of", "a", 0), ("of", "b", 0)]), ("of", "a", 2)]))
+[rows(late_rule(spare)), is_late_rule(spare), [told(late_rule(spare), {"a": 0, "b": late}) for late in [1, 2, 9]], whole_names(spare), harmless(spare, 1)]
+# [[[('a', 0), ('b', 0)], [('a', 2)]], True, [1, 2, 2], ['a'], [[('a', 1), ('b', 1)], [('a', -1)]]]
+book = Book([("a", Rule(("of", "a", 1))), ("b", spare)])
+[rows(late_after(book, 2).rule("b")), rows(after(late_book(book), 2).rule("b")), over_told(book, 2) == {"a": 0, "b": 1}]
+# [[[('a', 0), ('b', 0)], [('a', 1)]], [[('a', 0), ('b', 0)], [('a', 2)]], True]
+'''
+
+LATE = '''
+from leafwaits.books import Book
+from leafwaits.late import can_ever, held_late, is_can_ever, late_at, late_hours, late_stair, least_late, most_late, reached, stopping
+from leafwaits.rules import Rule
+ways = [("last", [("of", "bob", 0), ("of", "cat", 0)]), ("last", [("of", "bob", -3), ("of", "cat", 5)]), ("of", "cat", 7)]
+book = Book([("ann", Rule(("first", ways))), ("bob", Rule(("of", "bob", 1))), ("cat", Rule(("of", "cat", 1)))])
+[most_late(book, {"bob": 4}, "ann", 1), most_late(book, {"bob": 6}, "ann", 1), most_late(book, {"bob": 9}, "ann", 1), most_late(book, {"bob": 30}, "ann", 2)]
+# [4, 5, 6, 7]
+[least_late(book, {"bob": 9}, "ann", 1), least_late(book, {"bob": -2}, "ann", 1), most_late(book, {"bob": -2}, "ann", 1), least_late(book, {"bob": 9}, "bob", 2)]
+# [0, -2, 0, 9]
+[late_at(book, {"bob": 9}, late_hours(book, {"bob": 9}, "ann", 1, 6), 1)["ann"], late_hours(book, {"bob": 9}, "ann", 1, 7), late_at(book, {"bob": 9}, {"ann": 0, "bob": 0, "cat": 0}, 1) == {"ann": 6, "bob": 9, "cat": 0}]
+# [6, None, True]
+[late_stair(book, "bob", "ann", 1).corners, late_stair(book, "bob", "ann", 1).end(), late_stair(book, "cat", "ann", 1).corners, late_stair(book, "cat", "bob", 1).end()]
+# [[0, 5, 8, 10], 7, [0], 0]
+last, first = Rule(("last", [("of", "j", 0), ("of", "k", 0)])), Rule(("first", [("of", "a", 0), ("of", "b", 0)]))
+chain = Book([("a", last), ("b", Rule(("of", "k", 0))), ("i", first), ("j", Rule(("of", "j", 0))), ("k", Rule(("of", "k", 0)))])
+[reached(chain, "j", 1), reached(chain, "j", 2), reached(chain, "k", 2), most_late(chain, {"j": 3}, "i", 2)]
+# [['a', 'j'], ['a', 'j'], ['a', 'b', 'i', 'k'], 0]
+[held_late(chain, {"j": 3}, "a", 2, ["j"]), held_late(chain, {"j": 3}, "a", 2, ["k"]), stopping(chain, "j", "a", 2), stopping(chain, "j", "i", 2), stopping(chain, "j", "j", 1), stopping(chain, "k", "i", 2)]
+# [0, 3, [['j']], [[]], [], [['b']]]
+[is_can_ever(chain, "j", "i", can_ever(chain, "j", "i")), can_ever(chain, "i", "j"), can_ever(chain, "j", "k"), is_can_ever(chain, "j", "i", (chain, {"a": 0, "b": 0, "i": 0, "j": 0, "k": 0}, 2))]
+# [True, None, None, False]
+'''
+
+STAIRS = '''
+from leafwaits.stairs import Stair, first_of, first_unlike, last_of, put_behind, rank_of, widest_stair
+one, two = Stair(0, [0, 5, 8, 10]), Stair(2, [4])
+[one.value(3), one.value(7), one.value(9), one.value(99), one.end(), two.end(), one.undone(5), one.undone(7), one.undone(-1), two.undone(2)]
+# [3, 5, 6, 7, 7, None, 8, None, -1, 4]
+[first_of([one, two]) == Stair(0, [0, 2, 4, 7, 8, 10]), last_of([one, two]).begin, last_of([one, two]).corners, put_behind(two, one) == Stair(2, [4, 7, 10, 12])]
+# [True, 2, [2, 5, 7], True]
+[rank_of(1, [one, two]) == first_of([one, two]), first_unlike(one, two), widest_stair(one, two), widest_stair(two, one), one.shifted(-3).begin, Stair(4, []).value(10 ** 25)]
+# [True, 0, 2, None, -3, 4]
+'''
+
 
 def run_example(test, text):
     """Runs the lines of an example; what a line tells is told again by the comment below it."""
@@ -75,6 +142,18 @@ class ExamplesTest(unittest.TestCase):
 
     def test_section_5(self):
         run_example(self, BOOKS)
+
+    def test_section_6(self):
+        run_example(self, ROUNDS)
+
+    def test_section_7(self):
+        run_example(self, LATE_BOOK)
+
+    def test_section_8(self):
+        run_example(self, LATE)
+
+    def test_section_9(self):
+        run_example(self, STAIRS)
 
 
 if __name__ == "__main__":

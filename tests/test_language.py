@@ -1,6 +1,7 @@
 """The package is one folder of plain files within the subset of Python that it is written in."""
 
 import ast
+import builtins
 import pathlib
 import unittest
 
@@ -12,8 +13,17 @@ INTERFACE = {
             "telling alone slack lean",
     "books": "Book now_ring hours_behind flat then after beside renamed turned_about alike_books parting_after "
              "check_parting_after alike_from",
+    "rounds": "run hours_after first_round meeting",
+    "latebook": "late_rule is_late_rule same_lates parting_lates late_book late_after over_told whole_names harmless",
+    "late": "late_at most_late least_late late_hours late_stair reached held_late stopping can_ever is_can_ever",
+    "stairs": "Stair first_of last_of rank_of put_behind first_unlike widest_stair",
 }
-METHODS = {"Rule": "__init__ term __eq__", "Book": "__init__ names rule changed with_scribe without __len__ __eq__"}
+METHODS = {
+    "Rule": "__init__ term __eq__",
+    "Book": "__init__ names rule changed with_scribe without __len__ __eq__",
+    "Stair": "__init__ begin corners value end undone shifted __eq__",
+}
+PROPERTIES = {"Stair": ["begin", "corners"]}
 BUILTINS = """len range enumerate zip min max sum abs sorted reversed int str bool list tuple dict set isinstance ord
 repr any all divmod""".split()
 LIBRARY = {"itertools": ["combinations"]}
@@ -34,7 +44,16 @@ class LanguageTest(unittest.TestCase):
             for node in ast.walk(ast.parse(text)):
                 if isinstance(node, ast.FunctionDef):
                     self.assertLessEqual(node.end_lineno - node.lineno + 1, 40, (path, node.name))
+
+    def test_decorators_stand_over_properties_only(self):
+        for _, tree in trees():
+            for node in ast.walk(tree):
+                if isinstance(node, ast.FunctionDef):
+                    self.assertIn([ast.unparse(decorator) for decorator in node.decorator_list], [[], ["property"]])
+                if isinstance(node, ast.ClassDef):
                     self.assertEqual(node.decorator_list, [])
+                    properties = [item.name for item in node.body if getattr(item, "decorator_list", [])]
+                    self.assertEqual(properties, PROPERTIES.get(node.name, []))
 
     def test_folder_holds_nothing_else(self):
         others = [path.name for path in FOLDER.iterdir() if path.suffix != ".py" and path.name != "__pycache__"]
@@ -65,6 +84,28 @@ class LanguageTest(unittest.TestCase):
                     self.assertIn(node.func.id, known + BUILTINS, path)
                     if node.func.id in TAKE_LISTS:
                         self.assertFalse(any(isinstance(argument, ast.GeneratorExp) for argument in node.args), path)
+
+    def test_no_local_name_is_that_of_an_import_a_class_or_a_builtin(self):
+        for path, tree in trees():
+            taken = [alias.name for node in ast.walk(tree) if isinstance(node, ast.ImportFrom) for alias in node.names]
+            taken += [node.name for node in ast.walk(tree) if isinstance(node, ast.ClassDef)] + dir(builtins)
+            bound = [node.arg for node in ast.walk(tree) if isinstance(node, ast.arg)]
+            bound += [node.id for node in ast.walk(tree) if isinstance(node, ast.Name) and isinstance(node.ctx, ast.Store)]
+            self.assertEqual([name for name in bound if name in taken], [], path)
+
+    def test_behind_a_star_in_a_call_stands_a_name(self):
+        for path, tree in trees():
+            for node in ast.walk(tree):
+                if isinstance(node, ast.Call):
+                    starred = [argument.value for argument in node.args if isinstance(argument, ast.Starred)]
+                    self.assertTrue(all(isinstance(value, ast.Name) for value in starred), path)
+                    self.assertTrue(all(keyword.arg for keyword in node.keywords), path)
+
+    def test_combinations_go_over_plain_names(self):
+        for path, tree in trees():
+            for node in ast.walk(tree):
+                if isinstance(node, ast.Call) and getattr(node.func, "id", "") == "combinations":
+                    self.assertTrue(all(isinstance(argument, ast.Name) for argument in node.args), path)
 
     def test_no_other_forms(self):
         barred = (ast.Global, ast.Nonlocal, ast.AsyncFunctionDef, ast.Await, ast.Try, ast.GeneratorExp, ast.Yield,
