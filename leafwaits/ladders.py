@@ -62,11 +62,13 @@ class Ladders:
         return found
 
     def joined(self, some, others):
-        """The least masks of the rows of the greatest waits of one row of each of two lists."""
+        """The least masks of the rows of the greatest waits of one row of each of two lists of least masks."""
         # A row that has one of the other list within it is what comes of these two, and lies within
         # whatever else comes of it: so it stays alone, which spares most pairs.
         settled, bare = _settled_and_bare(some, others)
         settled_others, bare_others = _settled_and_bare(others, some)
+        if not bare or not bare_others:
+            return settled_others if bare else settled
         return self.least(settled + settled_others + [mask | other for mask in bare for other in bare_others])
 
     def ranked(self, rank, lists):

@@ -97,7 +97,7 @@ def _steps_at(row, known, who):
     pairs = []
     for inner in known:
         if names_stand_in(inner, waits):
-            gaps = [wait - waits[name] for name, wait in inner if name != who]
+            gaps = [wait - waits[name] for name, wait in inner]
             own = [waits[name] - wait for name, wait in inner if name == who]
             pairs.append((max([0] + gaps), own[0] if own else None))
     steps = []

@@ -136,15 +136,12 @@ def _corners_of(stairs):
 
 
 def _crossings(one, other):
-    """The counts, corners aside, at which two stairs come to tell the same."""
+    """Counts among which, corners aside, are all those at which two stairs come to tell the same."""
     counts = _corners_of([one, other])
-    found = []
-    for at, (told, others) in enumerate(zip(_course(one, counts), _course(other, counts))):
-        gap = told[0] - others[0]
-        meeting = counts[at] + abs(gap)
-        if gap * (told[1] - others[1]) < 0 and (at + 1 == len(counts) or meeting < counts[at + 1]):
-            found.append(meeting)
-    return found
+    course = _course(one, counts)
+    others = _course(other, counts)
+    # From one corner to the next the two come nearer by 1 for each count, or not at all.
+    return [count + abs(told - less) for count, (told, _), (less, _) in zip(counts, course, others)]
 
 
 def put_behind(one, other):

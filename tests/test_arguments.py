@@ -221,6 +221,27 @@ class ArgumentsTest(unittest.TestCase):
             self.assertEqual(repr([readable(value) for value in arguments.values()]), repr(before))
             self.assertEqual(repr(readable(call(**arguments))), first)
 
+    def test_what_is_returned_can_be_changed(self):
+        for call, parameters in CALLS:
+            arguments = {name: right for name, right, _, _ in parameters}
+            value = call(**arguments)
+            first = repr(readable(value))
+            empty(value)
+            self.assertEqual(repr(readable(call(**arguments))), first)
+
+
+def empty(value):
+    """Empties all lists and dictionaries within a value."""
+    if isinstance(value, (list, tuple, dict)):
+        for inner in value.values() if isinstance(value, dict) else value:
+            empty(inner)
+    if isinstance(value, (list, dict)):
+        value.clear()
+    if isinstance(value, Rule):
+        empty(value.term())
+    if isinstance(value, Stair):
+        empty(value.corners)
+
 
 def readable(value):
     if isinstance(value, Rule):

@@ -11,7 +11,9 @@ from leafwaits.late import reached, stopping
 from leafwaits.latebook import late_after
 from leafwaits.rows import matters
 from leafwaits.rules import Rule, parts, told, waited
-from support import any_objects, random_book, random_hours, rounds_by_definition, seeded, told_by_definition
+from leafwaits.terms import rebuilt
+from support import any_objects, random_book, random_hours, random_rule, rounds_by_definition, seeded
+from support import told_by_definition
 
 LONG = 10 ** 12 - 1
 # In these books waits are from -1 to 1: whoever hands 50 later than others, or earlier, is endlessly so.
@@ -245,6 +247,35 @@ class HeldTest(unittest.TestCase):
             lates, many, name = some_lates(rng, "abcd", 12), rng.randint(1, 2), rng.choice("abcd")
             self.assertEqual(held_late(book, lates, name, many, []), most_late(book, lates, name, many))
             self.assertEqual(held_late(book, lates, name, 1, list("abcd")), most_late(book, lates, name, 1))
+
+    def test_nobody_held_is_the_most_with_long_waits_and_lates(self):
+        rng = seeded(16)
+        for _ in range(150):
+            terms = {name: random_rule(rng, 4, "abc", (), 1).term() for name in "abc"}
+            scale = rng.choice([1, LONG])
+            long = rng.choice([(0, 0, 0, -7), (0, 0, 7), (-5, 5)])
+            rules = [(name, Rule(rebuilt(term, lambda part: (part[0], part[1], scale * rng.choice(long)))))
+                     for name, term in terms.items()]
+            book, many, name = Book(rules), rng.randint(1, 3), rng.choice("abc")
+            for lates in [{"a": LONG, "b": -LONG}, {"c": 5, "a": -3}, {"a": -LONG, "b": -LONG, "c": 1}, {"b": -1}]:
+                self.assertEqual(held_late(book, lates, name, many, []), most_late(book, lates, name, many))
+
+    def test_a_wait_that_counts_in_each_round(self):
+        book = Book([("a", of("a", -LONG)), ("b", of("b")), ("c", Rule(("first", [("of", "a", 0), ("of", "b", 0)])))])
+        self.assertEqual([held_late(book, {"b": 5}, "c", 3, held) for held in [[], ["a"], ["b"]]], [5, 5, 0])
+        self.assertEqual([most_late(book, {"b": 5}, "c", 3), least_late(book, {"b": 5}, "c", 3)], [5, 0])
+        self.assertEqual([stopping(book, who, "c", 3) for who in "abc"], [[["a"]], [["b"]], [[]]])
+
+    def test_stopping_with_long_waits(self):
+        rng = seeded(17)
+        for _ in range(60):
+            rules = [(name, random_rule(rng, 4, "abc", (), rng.choice([1, LONG]))) for name in "abc"]
+            book, many = Book(rules), rng.randint(2, 3)
+            lots = [list(lot) for size in range(4) for lot in itertools.combinations("abc", size)]
+            for who, name in itertools.product("abc", "abc"):
+                stops = [lot for lot in lots if held_late(book, {who: 10 ** 29}, name, many, lot) == 0]
+                least = [lot for lot in stops if not any(set(other) < set(lot) for other in stops)]
+                self.assertEqual(stopping(book, who, name, many), least)
 
     def test_in_the_same_round(self):
         # bob goes in the same round by ann, who is held in round 1 alone.

@@ -5,12 +5,18 @@ import unittest
 
 from leafwaits.books import Book, after, alike_books, alike_from, check_parting_after, flat, hours_behind, parting_after
 from leafwaits.books import then
+from leafwaits.late import can_ever, held_late, is_can_ever, late_at, late_hours, late_stair, least_late, most_late
+from leafwaits.late import reached, stopping
+from leafwaits.latebook import harmless, is_late_rule, late_after, late_rule, over_told, parting_lates, same_lates
+from leafwaits.latebook import whole_names
+from leafwaits.rounds import first_round, hours_after, meeting, run
 from leafwaits.rows import alike, alone, columns, lean, matters, of_columns, of_rows, parting, reasons, rows, slack
 from leafwaits.rows import telling
 from leafwaits.rules import Rule, mirrored, put_in, told
+from leafwaits.stairs import Stair, first_of, first_unlike, last_of, put_behind, rank_of, widest_stair
 from support import random_hours, random_rule, seeded
 
-SOON = 8
+SOON = 20
 SIX = ["a", "b", "c", "d", "e", "f"]
 LONG_WAIT = 10 ** 12 - 1
 
@@ -36,10 +42,27 @@ THREE = {
     "c": ("rank", 3, [("of", "a", 96), ("now", "b", -39), ("now", "a", -67), ("of", "b", 67), ("now", "a", 79),
                       ("of", "b", -99)]),
 }
+# This one was found by a search for late rules of a lot of rows.
+FIVE_LATE = {
+    "d": ("first", [("first", [("of", "e", 552), ("of", "a", 612), ("of", "d", 716), ("of", "b", -330)])]),
+    "a": ("rank", 3, [("of", "e", -136), ("now", "d", 504), ("of", "d", 709), ("of", "a", -457)]),
+    "b": ("rank", 2, [("of", "a", -2), ("of", "c", -9), ("now", "a", 7), ("now", "a", -8)]),
+    "c": ("last", [("now", "a", -100), ("now", "b", 28), ("now", "d", -8), ("of", "c", -62)]),
+    "e": ("rank", 2, [("of", "e", 29), ("now", "c", 68), ("of", "a", -42), ("of", "d", -84)]),
+}
 
 
 def book_of(terms):
     return Book([(name, Rule(term)) for name, term in terms.items()])
+
+
+def spread_rows(rng, names, many):
+    """Rows of all of some names, of which none is likely to lie within another one."""
+    some = []
+    for _ in range(many):
+        waits = [rng.randint(0, 10 ** 6) for _ in names]
+        some.append([(name, wait - sum(waits) // len(names)) for name, wait in zip(names, waits)])
+    return some
 
 
 class LimitsTest(unittest.TestCase):
@@ -81,10 +104,7 @@ class LimitsTest(unittest.TestCase):
 
     def test_forty_rows_of_six_names(self):
         rng = seeded(2)
-        some = []
-        for _ in range(40):
-            waits = [rng.randint(0, 10 ** 6) for _ in SIX]
-            some.append([(name, wait - sum(waits) // 6) for name, wait in zip(SIX, waits)])
+        some = spread_rows(rng, SIX, 40)
         rule = of_rows(some)
         self.assertEqual(rows(rule), sorted(some))
         self.assertTrue(len(columns(rule)) > 1000)
@@ -135,6 +155,81 @@ class LimitsTest(unittest.TestCase):
             terms = {name: ("rank", term[1], [(word, other, wait * scale) for word, other, wait in term[2]])
                      for name, term in FIVE.items()}
             self.assertEqual(len(rows(after(book_of(terms), 2).rule("b"))), 156)
+
+    def test_three_hundred_rounds(self):
+        for book in [book_of(FIVE), flat(book_of(FIVE)), book_of(THREE)]:
+            hours = {name: 10 ** 29 for name in book.names()}
+            every = run(book, hours, 300)
+            self.assertEqual(hours_after(book, every[1], 299), every[300])
+            self.assertIsNone(first_round(book, hours, "a", 10 ** 30, 300))
+            self.assertEqual(meeting(book, hours, every[-1], 0), None)
+            meeting(book, hours, dict(hours, b=-10 ** 29), 300)
+
+    def test_late_rules_of_the_greatest_size(self):
+        rng = seeded(4)
+        for _ in range(20):
+            one, other = random_rule(rng, 8, SIX, (), LONG_WAIT), random_rule(rng, 8, SIX, (), LONG_WAIT)
+            self.assertTrue(is_late_rule(late_rule(one)))
+            self.assertIs(same_lates(one, other), parting_lates(one, other) is None)
+            self.assertEqual(len(harmless(one, 10 ** 29)), len(rows(late_rule(one))))
+            self.assertTrue(all(name in matters(one) for name in whole_names(one)))
+
+    def test_late_rules_of_forty_rows(self):
+        rng = seeded(5)
+        some = spread_rows(rng, SIX, 40)
+        self.assertEqual(rows(late_rule(of_rows(some))), [[(name, 0) for name in SIX]])
+        rule = of_rows(spread_rows(rng, SIX[:5], 39) + [[("a", 10 ** 6)]])
+        self.assertEqual(whole_names(rule), ["a"])
+        self.assertTrue(len(harmless(rule, 0)) > 100)
+        self.assertFalse(is_late_rule(rule))
+
+    def test_late_books_of_five_scribes(self):
+        late = late_after(book_of(FIVE_LATE), 2)
+        self.assertEqual(len(rows(late.rule("c"))), 2173)
+
+    def test_over_told_of_five_scribes(self):
+        self.assertEqual(over_told(book_of(FIVE), 2), {"a": 0, "b": 0, "c": 0, "d": 0, "e": 0})
+        self.assertIsNone(over_told(book_of(FIVE_MORE), 2)["c"])
+
+    def test_lateness_in_books_of_five_scribes(self):
+        for terms, name in [(FIVE, "e"), (FIVE_MORE, "d"), (FIVE_LATE, "c")]:
+            book, lates = book_of(terms), {"a": LONG_WAIT, "c": -LONG_WAIT}
+            most, least = most_late(book, lates, name, 2), least_late(book, lates, name, 2)
+            self.assertEqual(held_late(book, lates, name, 2, []), most)
+            hours = late_hours(book, lates, name, 2, (most + least) // 2)
+            self.assertEqual(late_at(book, lates, hours, 2)[name], (most + least) // 2)
+            self.assertEqual(late_stair(book, "a", name, 2).value(LONG_WAIT), most_late(book, {"a": LONG_WAIT}, name, 2))
+            self.assertEqual(name in reached(book, "a", 2), [] not in stopping(book, "a", name, 2))
+            self.assertTrue(is_can_ever(book, "a", name, can_ever(book, "a", name)))
+
+    def test_lateness_in_books_of_three_scribes(self):
+        terms = {name: (term[0], min(term[1], 4), term[2][:4]) for name, term in THREE.items()}
+        book = book_of(terms)
+        for name in "abc":
+            lates = {"b": 10 ** 29}
+            most = most_late(book, lates, name, 3)
+            self.assertEqual(late_at(book, lates, late_hours(book, lates, name, 3, most), 3)[name], most)
+            self.assertEqual(late_stair(book, "b", name, 3).value(10 ** 29), most)
+            stopping(book, "b", name, 3)
+        over_told(book, 3)
+        late_at(book, {"b": 10 ** 29}, {"a": 0, "b": 10 ** 29, "c": -10 ** 29}, 30)
+
+    def test_stairs_of_forty_corners(self):
+        rng = seeded(6)
+        for scale in [50, 10 ** 6, 10 ** 30 - 1]:
+            stairs = [Stair(rng.randint(0, scale), sorted(rng.sample(range(scale), 40))) if scale < 10 ** 9 else
+                      Stair(rng.randint(0, scale), sorted({rng.randint(0, scale) for _ in range(40)})) for _ in range(6)]
+            for count in [0, scale // 3, scale]:
+                told_by_all = sorted(stair.value(count) for stair in stairs)
+                for number in range(1, 7):
+                    self.assertEqual(rank_of(number, stairs).value(count), told_by_all[number - 1])
+                self.assertEqual([first_of(stairs).value(count), last_of(stairs).value(count)],
+                                 [told_by_all[0], told_by_all[-1]])
+            for one in stairs:
+                for other in stairs:
+                    self.assertEqual(put_behind(one, other).value(scale), other.value(one.value(scale)))
+                    self.assertEqual(first_unlike(one, other) is None, one is other)
+                    self.assertGreaterEqual(widest_stair(one, other), one.begin - other.begin)
 
 
 if __name__ == "__main__":
