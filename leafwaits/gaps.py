@@ -1,7 +1,6 @@
 """How far apart what two flat rules tell can be, at all hours, decided by their canonical rows.
 
-A list of canonical rows stands for its rule. An empty one stands for a rule that never tells an hour, which is
-later than all hours.
+In this file a list of canonical rows stands for its rule.
 """
 
 from leafwaits.canon import lies_within
@@ -71,8 +70,8 @@ def _gap_at(some, row):
 def hours_of_widest_gap(some, others, names):
     """Any hours of some names at which a rule tells more than another one by the greatest number that there is."""
     widest = widest_gap(some, others)
-    row = [row for row in others if _gap_at(some, row) == widest][0]
-    return _hours_with(row, some + others, names, max(0, widest))
+    found = [row for row in others if _gap_at(some, row) == widest]
+    return _hours_with(found[0], some + others, names, max(0, widest))
 
 
 def hours_between(low, high, number, tells):

@@ -69,7 +69,10 @@ class Ladders:
         settled_others, bare_others = _settled_and_bare(others, some)
         if not bare or not bare_others:
             return settled_others if bare else settled
-        return self.least(settled + settled_others + [mask | other for mask in bare for other in bare_others])
+        found = settled + settled_others
+        for mask in bare:
+            found.extend(_few_least([mask | other for other in bare_others]))
+        return self.least(found)
 
     def ranked(self, rank, lists):
         """The least masks of the rows that a rank has, given those of each of its terms."""
@@ -99,11 +102,21 @@ class Ladders:
         floor = 0
         for masks in lists:
             floor = floor | _shared(masks)
-        raised = [self.least([mask | floor for mask in masks]) for masks in lists]
+        raised = {tuple(sorted(self.least([mask | floor for mask in masks]))): True for masks in lists}
         found = [floor]
-        for masks in sorted(raised, key=len):
-            found = self.joined(found, masks)
+        for masks in sorted(list(raised), key=len):
+            found = self.joined(found, list(masks))
         return found
+
+
+def _few_least(masks):
+    """The least of some masks, of which few are left."""
+    found = []
+    # A row within another one has the lesser mask.
+    for mask in sorted(set(masks)):
+        if not any([mask | other == mask for other in found]):
+            found.append(mask)
+    return found
 
 
 def _shared(masks):

@@ -88,10 +88,10 @@ def late_stair(book, who, name, many):
 
 
 def _steps_at(row, known, who):
-    """How late a rule is where a row tells 0 and all names that it lacks are endlessly late.
+    """How late a scribe may be where a row tells 0 and all names that it lacks are endlessly late.
 
-    Steps are tuples (number, more), rising in both: the rule is late by at most some count from `number` on just if
-    the scribe is late by at most so much more than this count; however late it is, if `more` is None.
+    Told in steps (number, more) that rise in both: from this number on, the rule is late by at most a number just if
+    the scribe is late by at most so much more, up to the next step; None stands for however late.
     """
     waits = dict(row)
     pairs = []
