@@ -1,13 +1,13 @@
 """Books: a rule for each of some scribes."""
 
 from leafwaits.canon import canonical_rows, plain_rows
-from leafwaits.checks import is_hours, is_name, is_one_of, need_count_from, need_hours, need_one_of
+from leafwaits.checks import is_just_hours, is_name, is_one_of, need_count_from, need_hours, need_one_of
 from leafwaits.errors import InvalidBook, InvalidName, InvalidNames, InvalidRule, InvalidRules
 from leafwaits.errors import StillNeeded, TakenName, Unlike
 from leafwaits.gaps import hours_parting
 from leafwaits.rings import shortest_ring
 from leafwaits.rows import of_rows
-from leafwaits.rules import Rule, mirrored, named
+from leafwaits.rules import Rule, mirrored, named, parts
 from leafwaits.terms import rebuilt
 from leafwaits.turns import hours_along, next_hours, turns_of
 
@@ -133,7 +133,7 @@ def flat(book):
 def then(one, other):
     """The book of a round of one book, and then a round of the other one."""
     _need_like_books(one, other)
-    return _book_of_rows(_rows_behind(other, rows_after(one, 1)))
+    return _book_of_rows(rows_behind(other, rows_after(one, 1)))
 
 
 def after(book, many):
@@ -143,7 +143,7 @@ def after(book, many):
     return _book_of_rows(rows_after(book, many))
 
 
-def _rows_behind(book, before):
+def rows_behind(book, before):
     """For each scribe the canonical rows of its hour behind a round, given those of the hours of the round before."""
     now = {}
     for name, term in turns_of(rules_of(book)):
@@ -155,8 +155,13 @@ def rows_after(book, many):
     """For each scribe the canonical rows of its hour behind so many rounds."""
     found = plain_rows(book.names())
     for _ in range(many):
-        found = _rows_behind(book, found)
+        found = rows_behind(book, found)
     return found
+
+
+def farthest_wait(book, many):
+    """A number that no wait in a row of some scribe's hour behind so many rounds is beyond, on either side of 0."""
+    return many * sum([abs(part[2]) for _, rule in rules_of(book) for _, part in parts(rule)])
 
 
 def _book_of_rows(found):
@@ -224,7 +229,7 @@ def check_parting_after(one, other, many, value):
     if not isinstance(value, tuple) or len(value) != 2 or not is_one_of(value[0], one.names()):
         return False
     name, hours = value
-    if not is_hours(hours, one.names()) or len(hours) > len(one):
+    if not is_just_hours(hours, one.names()):
         return False
     behind = [hours_along(turns_of(rules_of(book)), hours, many)[many][name] for book in [one, other]]
     return behind[0] != behind[1]
@@ -238,8 +243,8 @@ def alike_from(one, other, most):
     others = found
     were_alike = False
     for many in range(most + 1):
-        found = _rows_behind(one, found)
-        others = _rows_behind(other, others)
+        found = rows_behind(one, found)
+        others = rows_behind(other, others)
         are_alike = found == others
         if were_alike and are_alike:
             return many

@@ -1,6 +1,6 @@
 """What kind of value an object is: whole numbers, counts, names, hours, rows, paths."""
 
-from leafwaits.errors import InvalidCount, InvalidHours, InvalidWhole, UnknownName
+from leafwaits.errors import InvalidCount, InvalidHours, InvalidNames, InvalidWhole, UnknownName
 
 LONGEST_NAME = 8
 
@@ -32,6 +32,29 @@ def is_hours(value, names):
     if not isinstance(value, dict) or not all([is_name(key) for key in value]):
         return False
     return all([is_whole(hour) for hour in value.values()]) and all([name in value for name in names])
+
+
+def is_just_hours(value, names):
+    """Whether an object is a dictionary from just some names to hours."""
+    return is_hours(value, names) and len(value) == len(names)
+
+
+def is_span(value):
+    """Whether an object is a tuple of a low and a high, each an hour or None, the low not behind the high."""
+    if not isinstance(value, tuple) or len(value) != 2:
+        return False
+    if not all([end is None or is_whole(end) for end in value]):
+        return False
+    return None in value or value[0] <= value[1]
+
+
+def is_windows(value):
+    """Whether an object is a dictionary from tuples of a count and a name to spans."""
+    if not isinstance(value, dict) or not all([isinstance(key, tuple) and len(key) == 2 for key in value]):
+        return False
+    if not all([is_count(many) and is_name(name) for many, name in value]):
+        return False
+    return all([is_span(span) for span in value.values()])
 
 
 def is_row(value):
@@ -84,3 +107,17 @@ def need_hours(value, names):
     """Raises InvalidHours unless an object is hours of all of some names."""
     if not is_hours(value, names):
         raise InvalidHours(value)
+
+
+def need_just_hours(value, names):
+    """Raises InvalidHours unless an object is hours of just some names."""
+    if not is_just_hours(value, names):
+        raise InvalidHours(value)
+
+
+def need_name_list(value, names):
+    """Raises InvalidNames unless an object is a list of different ones of some names."""
+    if not isinstance(value, list) or not all([is_one_of(name, names) for name in value]):
+        raise InvalidNames(value)
+    if len(set(value)) < len(value):
+        raise InvalidNames(value)

@@ -67,14 +67,25 @@ def _gap_at(some, row):
     return min(gaps, default=None)
 
 
-def hours_of_widest_gap(some, others, names):
-    """Any hours of some names at which a rule tells more than another one by the greatest number that there is."""
-    widest = widest_gap(some, others)
-    found = [row for row in others if _gap_at(some, row) == widest]
-    return _hours_with(found[0], some + others, names, max(0, widest))
+def hours_of_gap(some, others, names, number):
+    """Any hours of some names at which a rule tells just so much more than another one, None if there are none."""
+    high = _hours_of_gap_from(some, others, names, number)
+    low = _hours_of_gap_from(others, some, names, -number)
+    if low is None or high is None:
+        return None
+    return _hours_between(low, high, number, lambda hours: told_by_rows(some, hours) - told_by_rows(others, hours))
 
 
-def hours_between(low, high, number, tells):
+def _hours_of_gap_from(some, others, names, least):
+    """Any hours of some names at which a rule tells at least so much more than another one, None if there are none."""
+    for row in others:
+        gap = _gap_at(some, row)
+        if gap is None or gap >= least:
+            return _hours_with(row, some + others, names, max(0, least))
+    return None
+
+
+def _hours_between(low, high, number, tells):
     """Any hours at which a function tells just a number.
 
     It tells at most the number at some hours, at least the number at others of the same names, and moves by 1 at

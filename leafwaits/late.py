@@ -1,13 +1,12 @@
 """Lateness: who can make whom late some rounds on, and by how much."""
 
-from itertools import combinations
-
-from leafwaits.books import Book, need_book, rows_after, rules_of
-from leafwaits.checks import is_count, is_hours, is_one_of, need_count_within, need_hours, need_one_of, need_whole
-from leafwaits.errors import InvalidLates, InvalidNames
-from leafwaits.gaps import hours_between, hours_of_widest_gap, names_stand_in, told_by_rows, widest_gap
+from leafwaits.books import Book, farthest_wait, need_book, rows_after, rules_of
+from leafwaits.checks import is_count, is_hours, need_count_within, need_hours, need_name_list, need_one_of, need_whole
+from leafwaits.errors import InvalidLates
+from leafwaits.gaps import hours_of_gap, names_stand_in, widest_gap
+from leafwaits.lots import least_lots
 from leafwaits.rounds import hours_after, run
-from leafwaits.rules import Rule, parts
+from leafwaits.rules import Rule
 from leafwaits.stairs import Stair
 from leafwaits.turns import next_hours, turns_of
 from leafwaits.ways import terms_of_way, ways_from, with_waits
@@ -72,11 +71,7 @@ def late_hours(book, lates, name, many, number):
     need_whole(number)
     known = rows_after(book, many)[name]
     moved = _moved(known, lates)
-    if not -widest_gap(known, moved) <= number <= widest_gap(moved, known):
-        return None
-    low = hours_of_widest_gap(known, moved, book.names())
-    high = hours_of_widest_gap(moved, known, book.names())
-    return hours_between(low, high, number, lambda hours: told_by_rows(moved, hours) - told_by_rows(known, hours))
+    return hours_of_gap(moved, known, book.names(), number)
 
 
 def late_stair(book, who, name, many):
@@ -140,23 +135,10 @@ def reached(book, who, many):
 def held_late(book, lates, name, many, held):
     """The most by which a scribe is late in a round if some scribes hand in the rounds ahead of it as if none was."""
     _need_case(book, lates, name, many)
-    _need_held(held, book.names())
+    need_name_list(held, book.names())
     turns = turns_of(rules_of(book))
     runs = _runs_of_rows(book, lates, name, many)
     return max([_held_hours(turns, hours, lates, held)[name] - hours[many][name] for hours in runs])
-
-
-def _need_held(value, names):
-    """Raises InvalidNames unless an object is a list of different ones of some names."""
-    if not isinstance(value, list) or not all([is_one_of(name, names) for name in value]):
-        raise InvalidNames(value)
-    if len(set(value)) < len(value):
-        raise InvalidNames(value)
-
-
-def _farthest(book, many):
-    """A number that no wait in a row of some scribe's hour in a round is beyond, on either side of 0."""
-    return many * sum([abs(part[2]) for _, rule in rules_of(book) for _, part in parts(rule)])
 
 
 def _runs_of_rows(book, lates, name, many):
@@ -165,7 +147,7 @@ def _runs_of_rows(book, lates, name, many):
     All names that the row lacks hand so late that no row that has one of them tells the hour, with the lates either.
     So the scribe is nowhere later, with these lates, than in some of these runs.
     """
-    far = 1 + _farthest(book, many) + 2 * max([0] + [abs(late) for late in lates.values()])
+    far = 1 + farthest_wait(book, many) + 2 * max([0] + [abs(late) for late in lates.values()])
     begins = []
     for row in rows_after(book, many)[name]:
         hours = {other: far for other in book.names()}
@@ -188,17 +170,10 @@ def stopping(book, who, name, many):
     _need_pair(book, who, name)
     need_count_within(1, MOST_ROUNDS, many)
     # So late that no row that has this scribe tells the hour any more: what holds then holds however late it is.
-    lates = {who: 1 + 2 * _farthest(book, many)}
+    lates = {who: 1 + 2 * farthest_wait(book, many)}
     turns = turns_of(rules_of(book))
     runs = _runs_of_rows(book, lates, name, many)
-    names = book.names()
-    found = []
-    for size in range(len(names) + 1):
-        for lot in combinations(names, size):
-            known = any([all([other in lot for other in less]) for less in found])
-            if not known and _is_never_late(turns, runs, lates, name, lot):
-                found.append(list(lot))
-    return found
+    return least_lots(book.names(), lambda lot: _is_never_late(turns, runs, lates, name, lot))
 
 
 def _is_never_late(turns, runs, lates, name, held):

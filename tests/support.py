@@ -6,6 +6,7 @@ import random
 from leafwaits.books import Book
 from leafwaits.errors import LeafError
 from leafwaits.rules import Rule, named
+from leafwaits.seen import Sights
 from leafwaits.stairs import Stair
 
 
@@ -121,6 +122,12 @@ def any_objects():
         {("ann", 1): 1}, {"ann": 1, "Bob": 1}, {"ann": 1, "bob": None}, {None: None}, [[[[[[{}]]]]]],
         rule, now_rule, Book([("ann", rule)]), Book([("zed", Rule(("of", "zed", 0)))]), LeafError(), Stair(0, [0]),
         Stair(-1, []), [Stair(0, [])], (Stair(0, []),), [0, 1], [1, 0], [0, 0], [-1], [True], {"ann": -1}, {"zed": 1},
+        {(0, "ann"): (1, 2)}, {(2, "bob"): (None, 5), (0, "ann"): (None, None)}, {(True, "ann"): (1, 2)},
+        {(3, "ann"): (1, 2)}, {(0, "ann"): (2, 1)}, {(0, "ann"): [1, 2]}, {(0, "ann"): (1, True)}, {(0, "zed"): (1, 2)},
+        {(0,): (1, 2)}, {(-1, "ann"): (1, 2)}, {(0, "ann"): (1, 2, 3)}, {(1, 2): (1, 2)}, {(0, "ann"): None},
+        Sights(["ann"], 1, []), [Sights(["ann"], 1, [])], {"ann": Sights(["ann"], 1, [])}, [({"ann": 1}, 1, 2)],
+        [({"ann": 1, "bob": 2}, 1, 2)], [({"ann": 1, "bob": 2}, 2, 1)], ({"ann": 1, "bob": 2}, 1, 2), ({"ann": 1}, 1, 2),
+        ({"ann": 1, "bob": True}, 1, 2), [[{"ann": 1, "bob": 2}, 1, 2]],
     ]
 
 

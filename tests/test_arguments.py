@@ -4,9 +4,10 @@ import copy
 import re
 import unittest
 
-from leafwaits import books, errors, late, latebook, rounds, rows, rules, stairs
+from leafwaits import books, differences, errors, late, latebook, rounds, rows, rules, runs, seen, stairs, windows
 from leafwaits.books import Book
 from leafwaits.rules import Rule
+from leafwaits.seen import Sights
 from leafwaits.stairs import Stair
 from support import any_objects
 
@@ -64,6 +65,57 @@ def is_corners(value):
             and value == sorted(set(value)))
 
 
+def is_names_of(*names):
+    def is_right(value):
+        return (isinstance(value, list) and all(isinstance(name, str) and name in names for name in value)
+                and len(set(value)) == len(value))
+    return is_right
+
+
+def is_ascending(value):
+    return isinstance(value, list) and value != [] and all(map(is_name, value)) and value == sorted(set(value))
+
+
+def is_span(value):
+    return (isinstance(value, tuple) and len(value) == 2 and all(end is None or type(end) is int for end in value)
+            and (None in value or value[0] <= value[1]))
+
+
+def is_windows(value):
+    return isinstance(value, dict) and all(
+        isinstance(key, tuple) and len(key) == 2 and type(key[0]) is int and 0 <= key[0] <= 2
+        and is_scribe(key[1]) and is_span(span) for key, span in value.items())
+
+
+def is_seen_row(value):
+    return (isinstance(value, tuple) and len(value) == 3 and is_hours_of("ann", "bob")(value[0])
+            and len(value[0]) == 2 and is_span(value[1:]))
+
+
+def is_seen(value):
+    return isinstance(value, list) and all(is_seen_row(row) for row in value)
+
+
+def is_sights(value):
+    return isinstance(value, Sights)
+
+
+def is_exact(value):
+    return is_sights(value) and value.most() is not None and all(low == high for _, low, high in value.rows())
+
+
+def is_most(value):
+    return value is None or (type(value) is int and value >= 0)
+
+
+def is_just_hours(value):
+    return is_hours_of("ann", "bob")(value) and len(value) == 2
+
+
+def is_all_sights(value):
+    return isinstance(value, dict) and "ann" in value and is_sights(value["ann"])
+
+
 def is_scribe(value):
     return isinstance(value, str) and value in ("ann", "bob")
 
@@ -86,6 +138,14 @@ NAME = ("name", "ann", is_scribe, "UnknownName")
 WHO = ("who", "bob", is_scribe, "UnknownName")
 ROUND = ("many", 2, is_count_within(1, 3), "InvalidCount")
 ROUND_FROM_0 = ("many", 2, is_count_within(0, 10 ** 31), "InvalidCount")
+NAMES = ("names", ["bob", "ann"], is_names_of("ann", "bob"), "InvalidNames")
+STILL = ("still", ["bob"], is_names_of("ann", "bob"), "InvalidNames")
+WINDOWS = ("windows", {(1, "ann"): (None, 5), (0, "bob"): (1, 2)}, is_windows, "InvalidWindows")
+SEEN = Sights(["ann", "bob"], 3, [({"ann": 0, "bob": 1}, 2, 3), ({"ann": 5, "bob": 1}, None, 7)])
+SIGHTS = ("sights", SEEN, is_sights, "InvalidSights")
+EXACT = ("sights", Sights(["ann", "bob"], 3, [({"ann": 0, "bob": 1}, 3, 3)]), is_exact, "InvalidSights")
+ONE_SIGHTS = ("one", SEEN, is_sights, "InvalidSights")
+OTHER_SIGHTS = ("other", SEEN.without(1), lambda value: value == SEEN, "InvalidSights")
 ONE_STAIR = ("one", Stair(2, [1]), lambda value: is_stair(value) and value.begin >= 0, "InvalidStair")
 
 
@@ -170,6 +230,65 @@ CALLS = [
                            ("other", Stair(-2, [1]), is_stair, "InvalidStair")]),
     (stairs.widest_stair, [("one", Stair(-2, []), is_stair, "InvalidStair"),
                            ("other", Stair(-2, [1]), is_stair, "InvalidStair")]),
+    (runs.carried, [ANY_BOOK, ALL_HOURS, NAMES, ROUND_FROM_0]),
+    (runs.spare, [ANY_BOOK, ALL_HOURS, NAMES, NAME, ROUND_FROM_0, ("limit", 5, is_whole, "InvalidWhole")]),
+    (runs.felt, [ANY_BOOK, ALL_HOURS, NAMES, ("count", 3, is_count_within(0, 10 ** 31), "InvalidCount"), ROUND_FROM_0]),
+    (runs.leeway, [BARE, ALL_HOURS, NAME]),
+    (runs.holders, [BARE, ALL_HOURS]),
+    (runs.hasteners, [BARE, ALL_HOURS]),
+    (runs.pacers, [BARE, ALL_HOURS]),
+    (runs.delayers, [BARE, ALL_HOURS]),
+    (runs.earlier_hours, [BARE, ALL_HOURS, STILL]),
+    (runs.later_hours, [BARE, ALL_HOURS, STILL]),
+    (runs.check_earlier, [BARE, ALL_HOURS, STILL, ANY_VALUE]),
+    (runs.check_later, [BARE, ALL_HOURS, STILL, ANY_VALUE]),
+    (runs.deciding, [BARE, ALL_HOURS]),
+    (runs.open_names, [BARE, ALL_HOURS]),
+    (windows.keeps, [ANY_BOOK, WINDOWS, ALL_HOURS]),
+    (windows.first_broken, [ANY_BOOK, WINDOWS, ALL_HOURS]),
+    (windows.ends, [ANY_BOOK, WINDOWS]),
+    (windows.begins, [ANY_BOOK, WINDOWS]),
+    (windows.boxes, [ANY_BOOK, WINDOWS]),
+    (windows.some_hours, [ANY_BOOK, WINDOWS]),
+    (windows.why_none, [ANY_BOOK, WINDOWS]),
+    (windows.room, [ANY_BOOK, WINDOWS, ALL_HOURS, NAME]),
+    (windows.common_room, [ANY_BOOK, WINDOWS, ALL_HOURS]),
+    (windows.tightest, [ANY_BOOK, WINDOWS]),
+    (windows.same_windows, [ANY_BOOK, ("one",) + WINDOWS[1:], ("other", {}) + WINDOWS[2:]]),
+    (windows.widening, [ANY_BOOK, WINDOWS]),
+    (Sights, [("names", ["ann", "bob"], is_ascending, "InvalidNames"),
+              ("most", 3, is_most, "InvalidCount"), ("rows", SEEN.rows(), is_seen, "InvalidSights")]),
+    (SEEN.with_row, [("row", ({"ann": 0, "bob": 1}, 2, None), is_seen_row, "InvalidSights")]),
+    (SEEN.without, [("at", 1, is_count_within(0, 1), "InvalidCount")]),
+    (seen.fits, [SIGHTS]),
+    (seen.clash, [SIGHTS]),
+    (seen.check_clash, [SIGHTS, ANY_VALUE]),
+    (seen.latest_rows, [SIGHTS]),
+    (seen.earliest_columns, [SIGHTS]),
+    (seen.latest_at, [SIGHTS, ALL_HOURS]),
+    (seen.earliest_at, [SIGHTS, ALL_HOURS]),
+    (seen.rule_fits, [SIGHTS, BARE]),
+    (seen.moments, [SIGHTS, ALL_HOURS]),
+    (seen.rule_with, [SIGHTS, ALL_HOURS, ("hour", 5, is_whole, "InvalidWhole")]),
+    (seen.after_rounds, [("seen", {"ann": SEEN, "bob": SEEN}, is_all_sights, "InvalidSights"),
+                         ("hours", HOURS, is_just_hours, "InvalidHours"), ROUND_FROM_0]),
+    (seen.must_see, [SIGHTS]),
+    (seen.lots_seen, [SIGHTS]),
+    (seen.lots_stop, [SIGHTS]),
+    (seen.same_sights, [ONE_SIGHTS, OTHER_SIGHTS]),
+    (seen.unlike_rule, [ONE_SIGHTS, OTHER_SIGHTS]),
+    (seen.needless, [SIGHTS]),
+    (seen.telling_hours, [SIGHTS]),
+    (seen.still_fit, [SIGHTS]),
+    (seen.lots_wrong, [SIGHTS]),
+    (seen.watched, [ANY_BOOK, ALL_HOURS, ("many", 2, is_count_within(0, 8), "InvalidCount"),
+                    ("most", None, is_most, "InvalidCount")]),
+    (seen.last_latest, [EXACT]),
+    (seen.last_moments, [EXACT, ALL_HOURS]),
+    (differences.spread, [ONE, OTHER]),
+    (differences.hours_of, [ONE, OTHER, ANY_NUMBER]),
+    (differences.why_at_most, [ONE, OTHER, ANY_NUMBER]),
+    (differences.is_why_at_most, [ONE, OTHER, ANY_NUMBER, ANY_VALUE]),
     (books.alike_from, [ONE_BOOK, OTHER_BOOK, ("most", 2, is_count_from_1, "InvalidCount")]),
 ]
 
@@ -209,7 +328,7 @@ class ArgumentsTest(unittest.TestCase):
                     arguments[parameter[0]] = HUNG
                     self.check_raises(call, arguments, parameter[0], "NotFlat")
                     asked += 1
-        self.assertEqual(asked, 27)
+        self.assertEqual(asked, 47)
 
     def test_nothing_is_changed(self):
         for call, parameters in CALLS:
@@ -241,6 +360,9 @@ def empty(value):
         empty(value.term())
     if isinstance(value, Stair):
         empty(value.corners)
+    if isinstance(value, Sights):
+        empty(value.names())
+        empty(value.rows())
 
 
 def readable(value):
@@ -248,6 +370,8 @@ def readable(value):
         return value.term()
     if isinstance(value, Stair):
         return (value.begin, value.corners)
+    if isinstance(value, Sights):
+        return (value.names(), value.most(), value.rows())
     if isinstance(value, (tuple, list)):
         return type(value)(readable(inner) for inner in value)
     if isinstance(value, Book):

@@ -1,4 +1,4 @@
-"""The examples of sections 3 to 9 of the document, as they stand there."""
+"""The examples of sections 3 to 12 of the document, as they stand there."""
 
 import unittest
 
@@ -118,6 +118,72 @@ one, two = Stair(0, [0, 5, 8, 10]), Stair(2, [4])
 # [True, 0, 2, None, -3, 4]
 '''
 
+RUNS = '''
+from leafwaits.books import Book
+from leafwaits.rules import Rule
+from leafwaits.runs import carried, deciding, delayers, earlier_hours, felt, hasteners, holders, later_hours, leeway, open_names, pacers, spare
+hall = Book([("ann", Rule(("of", "bea", 1))), ("bea", Rule(("first", [("of", "ann", 2), ("of", "cal", 0)]))), ("cal", Rule(("last", [("of", "cal", 3), ("of", "bea", 1)])))])
+begin = {"ann": 0, "bea": 0, "cal": 4}
+late = carried(hall, begin, ["ann"], 2)
+[[late[0]["ann"].value(5), late[1]["bea"].value(0), late[1]["bea"].value(1), late[1]["bea"].value(9), late[2]["ann"].value(9), late[2]["cal"].value(9)], [spare(hall, begin, ["ann"], "bea", 1, limit) for limit in [1, 3, 4]]]
+# [[5, 2, 3, 4, 5, 10], [-1, 1, None]]
+felt(hall, begin, ["ann"], 5, 2) == [{"ann": 5}, {"bea": 2}, {"ann": 2}]
+# True
+rule, hours = Rule(("first", [("of", "ann", 3), ("last", [("of", "bea", 1), ("of", "cal", 2)])])), {"ann": 4, "bea": 2, "cal": 5}
+[holders(rule, hours), hasteners(rule, hours), pacers(rule, hours), delayers(rule, hours)]
+# [[['ann', 'cal']], [['ann'], ['cal']], [['ann'], ['bea', 'cal']], [['ann', 'bea'], ['ann', 'cal']]]
+[leeway(rule, hours, "bea"), leeway(rule, hours, "cal"), deciding(rule, hours), open_names(rule, hours), earlier_hours(rule, hours, ["cal", "ann"]), later_hours(rule, hours, ["ann"])]
+# [(None, None), (0, None), ['ann', 'cal'], [], None, None]
+'''
+
+WINDOWS = '''
+from leafwaits.books import Book
+from leafwaits.rules import Rule
+from leafwaits.windows import begins, boxes, common_room, ends, first_broken, keeps, room, same_windows, some_hours, tightest, why_none, widening
+sooner = Rule(("first", [("of", "ann", 0), ("of", "ben", 0)]))
+duo = Book([("ann", sooner), ("ben", Rule(("last", [("of", "ann", 0), ("of", "ben", 1)])))])
+wish = {(1, "ann"): (None, 5), (1, "ben"): (3, 8)}
+[keeps(duo, wish, {"ann": 6, "ben": 0}), first_broken(duo, wish, {"ann": 6, "ben": 6}), first_broken(duo, wish, {"ann": 2, "ben": 1})]
+# [True, (1, 'ann'), (1, 'ben')]
+[ends(duo, wish) == [{"ann": 5, "ben": 7}, {"ann": 8, "ben": 5}], begins(duo, wish) == [{"ann": None, "ben": 2}, {"ann": 3, "ben": None}], len(boxes(duo, wish))]
+# [True, True, 4]
+[room(duo, wish, {"ann": 6, "ben": 0}, "ann"), room(duo, wish, {"ann": 6, "ben": 0}, "ben"), common_room(duo, wish, {"ann": 6, "ben": 0}), widening(duo, wish)]
+# [(3, 8), (None, 5), (-3, 2), -2]
+[tightest(duo, wish) == wish, same_windows(duo, wish, {(0, "ben"): (None, 7), (1, "ann"): (None, 5), (1, "ben"): (3, 8)}), some_hours(duo, {(0, "ann"): (9, None), (1, "ann"): (None, 5), (0, "ben"): (7, None)})]
+# [True, None, None]
+hard = {(0, "ann"): (9, None), (1, "ann"): (None, 5), (0, "ben"): (7, None)}
+[why_none(duo, hard) == [({"ann": 5, "ben": None}, 0, "ann"), ({"ann": None, "ben": 5}, 0, "ben")], widening(duo, hard), widening(duo, {(1, "ann"): (None, 5)})]
+# [True, 1, None]
+'''
+
+SIGHTS = '''
+from leafwaits.seen import Sights, after_rounds, clash, earliest_at, earliest_columns, fits, last_latest, last_moments, latest_at, latest_rows
+from leafwaits.seen import lots_seen, lots_stop, lots_wrong, moments, must_see, needless, rule_with, telling_hours, watched
+from leafwaits.books import Book
+from leafwaits.rules import Rule
+seen = Sights(["a", "b"], 3, [({"a": 0, "b": 0}, 2, 2), ({"a": 0, "b": 5}, 3, 3)])
+[fits(seen), must_see(seen), lots_stop(seen), latest_at(seen, {"a": 0, "b": 5}), earliest_at(seen, {"a": 4, "b": 0})]
+# [True, ['a', 'b'], [['a'], ['b']], 3, 2]
+[latest_rows(seen), earliest_columns(seen)]
+# [[[('a', 2), ('b', 2)], [('a', 3)]], [[('a', 2), ('b', 2)], [('a', 3), ('b', 0)]]]
+[moments(seen, {"a": 0, "b": 1}), moments(seen, {"a": 5, "b": 0}), rule_with(seen, {"a": 5, "b": 0}, 4)]
+# [[(2, 3)], [(2, 3), (5, 7)], None]
+wrong = seen.with_row(({"a": 1, "b": 9}, 2, 2))
+[fits(wrong), clash(wrong) in ((2, 0), (2, 1)), lots_wrong(wrong), needless(seen)]
+# [False, True, [[0, 1], [2]], []]
+open_one = Sights(["a", "b"], 1, [])
+[lots_seen(open_one), lots_stop(open_one), after_rounds({"a": open_one, "b": open_one}, {"a": 0, "b": 3}, 2)]
+# [[['a'], ['b']], [['a', 'b']], [('a', 0, 5), ('b', 0, 5)]]
+one = Sights(["a", "b"], 5, [({"a": 0, "b": 0}, 3, 3)])
+[last_latest(one), last_moments(one, {"a": 0, "b": 4}), last_moments(one, {"a": 9, "b": 0})]
+# [[('a', 3), ('b', 3)], [(3, 7)], [(3, 3), (9, 12)]]
+any_wait = Sights(["a"], None, [({"a": 5}, 3, 3)])
+[latest_rows(any_wait), moments(any_wait, {"a": 0}), moments(Sights(["a"], None, []), {"a": 0})]
+# [[[('a', -2)]], [(-2, -2)], [(None, None)]]
+watched(Book([("a", Rule(("of", "a", 2)))]), {"a": 1}, 2, None) == {"a": Sights(["a"], None, [({"a": 1}, 3, 3), ({"a": 3}, 5, 5)])}
+# True
+'''
+
 
 def run_example(test, text):
     """Runs the lines of an example; what a line tells is told again by the comment below it."""
@@ -154,6 +220,15 @@ class ExamplesTest(unittest.TestCase):
 
     def test_section_9(self):
         run_example(self, STAIRS)
+
+    def test_section_10(self):
+        run_example(self, RUNS)
+
+    def test_section_11(self):
+        run_example(self, WINDOWS)
+
+    def test_section_12(self):
+        run_example(self, SIGHTS)
 
 
 if __name__ == "__main__":

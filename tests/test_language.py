@@ -17,11 +17,20 @@ INTERFACE = {
     "latebook": "late_rule is_late_rule same_lates parting_lates late_book late_after over_told whole_names harmless",
     "late": "late_at most_late least_late late_hours late_stair reached held_late stopping can_ever is_can_ever",
     "stairs": "Stair first_of last_of rank_of put_behind first_unlike widest_stair",
+    "runs": "carried spare felt leeway holders hasteners pacers delayers earlier_hours later_hours check_earlier "
+            "check_later deciding open_names",
+    "windows": "keeps first_broken ends begins boxes some_hours why_none room common_room tightest same_windows "
+               "widening",
+    "seen": "Sights fits clash check_clash latest_rows earliest_columns latest_at earliest_at rule_fits moments "
+            "rule_with after_rounds must_see lots_seen lots_stop same_sights unlike_rule needless telling_hours "
+            "still_fit lots_wrong watched last_latest last_moments",
+    "differences": "spread hours_of why_at_most is_why_at_most",
 }
 METHODS = {
     "Rule": "__init__ term __eq__",
     "Book": "__init__ names rule changed with_scribe without __len__ __eq__",
     "Stair": "__init__ begin corners value end undone shifted __eq__",
+    "Sights": "__init__ names most rows __len__ __eq__ with_row without",
 }
 PROPERTIES = {"Stair": ["begin", "corners"]}
 BUILTINS = """len range enumerate zip min max sum abs sorted reversed int str bool list tuple dict set isinstance ord
@@ -72,6 +81,7 @@ class LanguageTest(unittest.TestCase):
                     self.assertEqual(package, "leafwaits")
                     source = ast.parse((FOLDER / (module + ".py")).read_text())
                     defined = [item.name for item in source.body if isinstance(item, (ast.FunctionDef, ast.ClassDef))]
+                    defined += [item.targets[0].id for item in source.body if isinstance(item, ast.Assign)]
                     self.assertTrue(all(name in defined for name in names), (path, node.module, names))
 
     def test_builtins(self):

@@ -5,6 +5,7 @@ import unittest
 
 from leafwaits.books import Book, after, alike_books, alike_from, check_parting_after, flat, hours_behind, parting_after
 from leafwaits.books import then
+from leafwaits.differences import hours_of, is_why_at_most, spread, why_at_most
 from leafwaits.late import can_ever, held_late, is_can_ever, late_at, late_hours, late_stair, least_late, most_late
 from leafwaits.late import reached, stopping
 from leafwaits.latebook import harmless, is_late_rule, late_after, late_rule, over_told, parting_lates, same_lates
@@ -13,7 +14,13 @@ from leafwaits.rounds import first_round, hours_after, meeting, run
 from leafwaits.rows import alike, alone, columns, lean, matters, of_columns, of_rows, parting, reasons, rows, slack
 from leafwaits.rows import telling
 from leafwaits.rules import Rule, mirrored, put_in, told
+from leafwaits.runs import carried, check_earlier, check_later, deciding, delayers, earlier_hours, felt, hasteners
+from leafwaits.runs import holders, later_hours, leeway, open_names, pacers, spare
+from leafwaits.seen import Sights, after_rounds, clash, earliest_at, last_latest, last_moments, latest_at, lots_seen
+from leafwaits.seen import lots_stop, lots_wrong, moments, must_see, needless, rule_fits, rule_with, same_sights
+from leafwaits.seen import still_fit, telling_hours, unlike_rule, watched
 from leafwaits.stairs import Stair, first_of, first_unlike, last_of, put_behind, rank_of, widest_stair
+from leafwaits.windows import boxes, common_room, keeps, room, same_windows, some_hours, tightest, why_none, widening
 from support import random_hours, random_rule, seeded
 
 SOON = 20
@@ -213,6 +220,143 @@ class LimitsTest(unittest.TestCase):
             stopping(book, "b", name, 3)
         over_told(book, 3)
         late_at(book, {"b": 10 ** 29}, {"a": 0, "b": 10 ** 29, "c": -10 ** 29}, 30)
+
+    def test_runs_of_thirty_rounds(self):
+        folding = {
+            "a": ("rank", 4, [("of", "b", -602), ("of", "b", 107), ("of", "a", -104), ("of", "c", -825), ("of", "c", 181),
+                              ("of", "a", 978)]),
+            "b": ("rank", 3, [("of", "a", 598), ("now", "a", -180), ("of", "b", 801), ("of", "a", 816), ("now", "c", -567),
+                              ("now", "c", -233)]),
+            "c": ("last", [("of", "c", -38), ("now", "a", 496), ("now", "a", -458), ("of", "a", -72), ("of", "b", 931),
+                           ("of", "b", 498)]),
+        }
+        for terms in [folding, FIVE, FIVE_MORE, FIVE_LATE]:
+            book = book_of(terms)
+            hours = {name: at * at * 10 ** 3 - 300 * at for at, name in enumerate(book.names())}
+            stairs = carried(book, hours, ["a", "c"], 30)[30]
+            late = {name: hour + (LONG_WAIT if name in ("a", "c") else 0) for name, hour in hours.items()}
+            self.assertEqual({name: stair.value(LONG_WAIT) for name, stair in stairs.items()}, hours_after(book, late, 30))
+            count = spare(book, hours, ["c"], "b", 30, 10 ** 29)
+            self.assertTrue(count is None or count >= -1)
+            self.assertEqual(len(felt(book, hours, ["a"], 10 ** 29, 30)), 31)
+
+    def test_deciding_names_of_the_greatest_rules(self):
+        rng = seeded(7)
+        rules = [random_rule(rng, 8, SIX, (), LONG_WAIT) for _ in range(10)] + [of_rows(spread_rows(rng, SIX, 40))]
+        for rule in rules:
+            hours = random_hours(rng, SIX, 10 ** 29)
+            self.assertTrue(all(set(one) & set(two) for one in holders(rule, hours) for two in hasteners(rule, hours)))
+            self.assertTrue(all(set(one) & set(two) for one in pacers(rule, hours) for two in delayers(rule, hours)))
+            self.assertTrue(set(deciding(rule, hours)).isdisjoint(open_names(rule, hours)))
+            for name in deciding(rule, hours):
+                leeway(rule, hours, name)
+            self.assertTrue(check_earlier(rule, hours, [], earlier_hours(rule, hours, [])))
+            self.assertTrue(check_later(rule, hours, [], later_hours(rule, hours, [])))
+
+    def test_windows_of_books_of_five_scribes(self):
+        for terms in [FIVE, FIVE_MORE, FIVE_LATE]:
+            book = book_of(terms)
+            rounds = run(book, {name: at * 200 for at, name in enumerate("abcde")}, 1)
+            keys = [(1, name) for name in "abcde"] + [(0, "c")]
+            for wide in [0, 300, 10 ** 29]:
+                windows = {key: (rounds[key[0]][key[1]] - wide, rounds[key[0]][key[1]] + wide) for key in keys}
+                self.check_windows(book, windows)
+
+    def test_windows_of_books_of_three_scribes(self):
+        rng = seeded(8)
+        for terms in [THREE, {name: (term[0], min(term[1], 3), term[2][:3]) for name, term in THREE.items()}]:
+            book = book_of(terms)
+            latest = 1 if terms is THREE else 2
+            hours = random_hours(rng, "abc", 50)
+            rounds = run(book, hours, 2)
+            windows = {(at, name): (rounds[at][name] - 4, rounds[at][name] + 9) for at in (latest - 1, latest) for name in "abc"}
+            self.check_windows(book, windows)
+            self.assertTrue(keeps(book, windows, hours))
+
+    def check_windows(self, book, windows):
+        hours = some_hours(book, windows)
+        self.assertTrue(keeps(book, windows, hours))
+        self.assertIsNone(why_none(book, windows))
+        for low, high in boxes(book, windows):
+            self.assertTrue(all(low[name] is None or high[name] is None or low[name] <= high[name] for name in low))
+        self.assertLessEqual(widening(book, windows), 0)
+        narrow = tightest(book, windows)
+        self.assertTrue(keeps(book, narrow, hours))
+        self.assertIsNone(same_windows(book, windows, narrow))
+        for name in book.names():
+            low, high = room(book, windows, hours, name)
+            self.assertTrue((low is None or low <= hours[name]) and (high is None or hours[name] <= high))
+        self.assertIsNotNone(common_room(book, windows, hours))
+
+    def test_sights_of_six_names_and_eight_rows(self):
+        rng = seeded(9)
+        for most in [7, LONG_WAIT, None]:
+            rule = Rule(("rank", 3, [("of", name, rng.randint(0, most or 9)) for name in SIX]))
+            seen = []
+            for _ in range(8):
+                hours = {name: rng.randint(0, (most or 9) * 2) for name in SIX}
+                seen.append((hours, told(rule, hours), told(rule, hours)))
+            sights = Sights(SIX, most, seen)
+            self.assertTrue(rule_fits(sights, rule))
+            for hours, hour, _ in seen:
+                self.assertEqual([latest_at(sights, hours), earliest_at(sights, hours)], [hour, hour])
+                self.assertEqual(moments(sights, hours), [(hour, hour)])
+            self.assertTrue(all(set(one) & set(two) for one in lots_seen(sights) for two in lots_stop(sights)))
+            self.assertTrue(all(name in lot for name in must_see(sights) for lot in lots_seen(sights)))
+            self.assertEqual([still_fit(sights), lots_wrong(sights), clash(sights)], [8, [[]], None])
+            self.assertTrue(all(same_sights(sights, sights.without(at)) for at in needless(sights)))
+            wrong = Sights(SIX, most, [(hours, hour + at % 2 * 10 ** 29, None) if at % 2 else (hours, None, hour)
+                                       for at, (hours, hour, _) in enumerate(seen)])
+            self.assertEqual(len(lots_wrong(wrong)) > 0, True)
+            if most is not None:
+                last_latest(sights)
+                last_moments(sights, {name: 10 ** 29 for name in SIX})
+
+    def test_rules_out_of_sights(self):
+        rng = seeded(10)
+        for number in range(6):
+            three, four = SIX[:3], SIX[:4]
+            rule = Rule(("rank", 2, [("of", name, rng.randint(0, LONG_WAIT)) for name in three]))
+            seen = [{name: rng.randint(0, 2 * LONG_WAIT) for name in four} for _ in range(6)]
+            wide = Sights(four, LONG_WAIT, [(hours, told(rule, hours), told(rule, hours)) for hours in seen])
+            self.assertEqual(len(telling_hours(wide)), 4)
+            near = Sights(three, LONG_WAIT, [({name: hours[name] for name in three}, told(rule, hours), None)
+                                             for hours in seen[:3]])
+            hours = {name: number * LONG_WAIT for name in three}
+            for low, high in moments(near, hours):
+                for hour in [low, (low + high) // 2, high]:
+                    found = rule_with(near, hours, hour)
+                    self.assertEqual([told(found, hours), rule_fits(near, found)], [hour, True])
+            other = unlike_rule(near, near.without(0))
+            self.assertTrue(other is None or rule_fits(near, other) != rule_fits(near.without(0), other))
+
+    def test_thirty_rounds_of_what_was_seen(self):
+        book = book_of(FIVE)
+        begin = {name: at * 100 for at, name in enumerate("abcde")}
+        seen = watched(book, begin, 8, None)
+        every = run(book, begin, 30)
+        for many in range(8):
+            self.assertEqual(after_rounds(seen, begin, many), [(name, every[many][name], every[many][name]) for name in "abcde"])
+        for name, least, greatest in after_rounds(seen, begin, 30):
+            self.assertLessEqual(least, every[30][name])
+            self.assertLessEqual(every[30][name], greatest)
+
+    def test_differences_of_the_greatest_rules(self):
+        rng = seeded(11)
+        for _ in range(15):
+            one, other = random_rule(rng, 8, SIX, (), LONG_WAIT), random_rule(rng, 8, SIX, (), LONG_WAIT)
+            self.check_differences(one, other)
+        self.check_differences(of_rows(spread_rows(rng, SIX, 40)), of_rows(spread_rows(rng, SIX, 40)))
+
+    def check_differences(self, one, other):
+        least, most = spread(one, other)
+        for number in [least or -10 ** 29, most or 10 ** 29]:
+            hours = hours_of(one, other, number)
+            self.assertEqual(told(one, hours) - told(other, hours), number)
+        if most is not None:
+            self.assertIsNone(hours_of(one, other, most + 1))
+            self.assertTrue(is_why_at_most(one, other, most, why_at_most(one, other, most)))
+            self.assertIsNone(why_at_most(one, other, most - 1))
 
     def test_stairs_of_forty_corners(self):
         rng = seeded(6)
