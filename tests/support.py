@@ -5,6 +5,7 @@ import random
 
 from leafwaits.books import Book
 from leafwaits.errors import LeafError
+from leafwaits.live import Hall, Trial
 from leafwaits.rules import Rule, named
 from leafwaits.seen import Sights
 from leafwaits.stairs import Stair
@@ -107,6 +108,29 @@ def column_hour(column, hours):
     return min(hours[name] + wait for name, wait in column)
 
 
+def make(hall, change):
+    return getattr(hall, change[0])(*change[1:])
+
+
+def state(hall):
+    """All that a hall tells, and what it would tell if changes were taken back and made again, one after the other."""
+    inner = hall.copy()
+    found = []
+    for step in ["redo", "undo"]:
+        while True:
+            found.append(([(name, inner.book().rule(name).term()) for name in inner.book().names()], inner.hours(),
+                          inner.rounds(), len(inner), readable_log(inner.log())))
+            try:
+                getattr(inner, step)()
+            except LeafError:
+                break
+    return found
+
+
+def readable_log(log):
+    return [tuple(thing.term() if isinstance(thing, Rule) else thing for thing in change) for change in log]
+
+
 def any_objects():
     """Objects of all the kinds of which any object may be, and some that are nearly right."""
     rule = Rule(("of", "ann", 1))
@@ -127,7 +151,9 @@ def any_objects():
         {(0,): (1, 2)}, {(-1, "ann"): (1, 2)}, {(0, "ann"): (1, 2, 3)}, {(1, 2): (1, 2)}, {(0, "ann"): None},
         Sights(["ann"], 1, []), [Sights(["ann"], 1, [])], {"ann": Sights(["ann"], 1, [])}, [({"ann": 1}, 1, 2)],
         [({"ann": 1, "bob": 2}, 1, 2)], [({"ann": 1, "bob": 2}, 2, 1)], ({"ann": 1, "bob": 2}, 1, 2), ({"ann": 1}, 1, 2),
-        ({"ann": 1, "bob": True}, 1, 2), [[{"ann": 1, "bob": 2}, 1, 2]],
+        ({"ann": 1, "bob": True}, 1, 2), [[{"ann": 1, "bob": 2}, 1, 2]], Hall(Book([("ann", rule)]), {"ann": 0}),
+        [("round", -1)], [("round",)], ("round", 1), [["round", 1]], [("rounds", 1)], [("late", "ann")], "round -01",
+        "ann 01", "to: 0 ann\n", [("try", ())], [("undo", 1)], Trial(None),
     ]
 
 

@@ -4,8 +4,10 @@ import copy
 import re
 import unittest
 
-from leafwaits import books, differences, errors, late, latebook, rounds, rows, rules, runs, seen, stairs, windows
+from leafwaits import books, differences, errors, late, latebook, leads, live, rounds, rows, rules, runs, scripts, seen
+from leafwaits import stairs, texts, windows
 from leafwaits.books import Book
+from leafwaits.live import Hall
 from leafwaits.rules import Rule
 from leafwaits.seen import Sights
 from leafwaits.stairs import Stair
@@ -149,6 +151,56 @@ OTHER_SIGHTS = ("other", SEEN.without(1), lambda value: value == SEEN, "InvalidS
 ONE_STAIR = ("one", Stair(2, [1]), lambda value: is_stair(value) and value.begin >= 0, "InvalidStair")
 
 
+def on_new_hall(method):
+    """A method of a hall, called on a new one each time."""
+    def called(*things, **named_things):
+        return getattr(Hall(BOOK, HOURS), method)(*things, **named_things)
+    called.__name__ = method
+    return called
+
+
+def is_hall(value):
+    return isinstance(value, Hall)
+
+
+def is_book_of_several(value):
+    return is_book(value) and len(value) > 1
+
+
+def is_own_rule(value):
+    return value == Rule(("of", "ann", 1))
+
+
+def is_empty(value):
+    return value == "" or value == []
+
+
+SEVERAL = ("book", BOOK, is_book_of_several, "InvalidBook")
+NOW_HALL = ("hall", Hall(BOOK, HOURS), is_hall, "InvalidHall")
+ONE_HALL = ("one", Hall(BOOK, HOURS), is_hall, "InvalidHall")
+OTHER_HALL = ("other", Hall(BOOK.changed("bob", FLAT), HOURS), is_hall, "InvalidHall")
+SCRIPT = ("script", [("hours",), ("try", [("round", 2), ("leave", "ann")]), ("undo",)], is_empty, "InvalidScript")
+ONE_SCRIPT = ("one", [("late", "bob", 2), ("round", 2)], is_empty, "InvalidScript")
+OTHER_SCRIPT = ("other", [("round", 2), ("late", "bob", 2)], is_empty, "InvalidScript")
+
+
+def text_call(kind, error, value, is_right, *texts_of_some):
+    """The calls of the two functions of one kind of texts."""
+    written, read = getattr(texts, kind[0]), getattr(texts, "read_" + kind[0].split("_")[0])
+    return [(written, [(kind[1], value, is_right, error)]),
+            (read, [("text", written(value), lambda other: other in texts_of_some, "InvalidText")])]
+
+
+def is_run(value):
+    return isinstance(value, list) and all(map(is_hours_of(), value))
+
+
+def is_any_windows(value):
+    return isinstance(value, dict) and all(
+        isinstance(key, tuple) and len(key) == 2 and type(key[0]) is int and key[0] >= 0
+        and is_name(key[1]) and is_span(span) for key, span in value.items())
+
+
 def is_table(value):
     return isinstance(value, dict) and (not value or isinstance(value.get("ann"), Rule))
 
@@ -289,6 +341,44 @@ CALLS = [
     (differences.hours_of, [ONE, OTHER, ANY_NUMBER]),
     (differences.why_at_most, [ONE, OTHER, ANY_NUMBER]),
     (differences.is_why_at_most, [ONE, OTHER, ANY_NUMBER, ANY_VALUE]),
+    (leads.lead, [ANY_BOOK, ("one",) + NAME[1:], ("other", "bob") + NAME[2:], MANY]),
+    (leads.lead_hours, [ANY_BOOK, ("one",) + NAME[1:], ("other", "bob") + NAME[2:], ANY_NUMBER, MANY]),
+    (leads.front, [SEVERAL, NAME, MANY]),
+    (leads.front_hours, [SEVERAL, NAME, ANY_NUMBER, MANY]),
+    (leads.rear, [SEVERAL, NAME, MANY]),
+    (leads.rear_hours, [SEVERAL, NAME, ANY_NUMBER, MANY]),
+    (leads.sure_order, [ANY_BOOK]),
+    (Hall, [ANY_BOOK, ("hours", HOURS, is_just_hours, "InvalidHours")]),
+    (on_new_hall("round"), [ROUND_FROM_0]),
+    (on_new_hall("late"), [NAME, ("by", 3, is_count_within(0, 10 ** 31), "InvalidCount")]),
+    (on_new_hall("put"), [NAME, ("rule", Rule(("of", "bob", 0)), is_own_rule, "InvalidRule")]),
+    (on_new_hall("join"), [("name", "cy", is_name, "InvalidName"), ("rule", Rule(("now", "bob", 0)), is_rule, "InvalidRule"),
+                           ("hour", -3, is_whole, "InvalidWhole")]),
+    (on_new_hall("leave"), [NAME]),
+    (on_new_hall("reach"), [NAME, ROUND_FROM_0]),
+    (on_new_hall("spare"), [NAME, ("other", "bob") + NAME[2:], ROUND_FROM_0]),
+    (live.replayed, [ANY_BOOK, ("hours", HOURS, is_just_hours, "InvalidHours"),
+                     ("log", [("round", 2), ("late", "ann", 1)], lambda value: value in [[], [("round", -1)]], "InvalidLog")]),
+    (live.same_runs, [ONE_HALL, OTHER_HALL]),
+    (live.alike_halls, [ONE_HALL, OTHER_HALL]),
+    (live.parting_changes, [ONE_HALL, OTHER_HALL]),
+    (live.check_parting_changes, [ONE_HALL, OTHER_HALL, ANY_VALUE]),
+    (scripts.play, [NOW_HALL, SCRIPT]),
+    (scripts.script_text, [SCRIPT]),
+    (scripts.read_script, [("text", "undo\nhours", is_empty, "InvalidText")]),
+    (scripts.refused, [ANY_BOOK, SCRIPT]),
+    (scripts.same_end, [ANY_BOOK, ONE_SCRIPT, OTHER_SCRIPT]),
+    (scripts.parting_begin, [ANY_BOOK, ONE_SCRIPT, OTHER_SCRIPT]),
+    (scripts.check_parting_begin, [ANY_BOOK, ONE_SCRIPT, OTHER_SCRIPT, ANY_VALUE]),
+    (scripts.trimmed, [ANY_BOOK, SCRIPT]),
+    *text_call(("rule_text", "rule"), "InvalidRule", HUNG, is_rule),
+    *text_call(("book_text", "book"), "InvalidBook", BOOK, is_book),
+    *text_call(("hours_text", "hours"), "InvalidHours", HOURS, is_hours_of()),
+    *text_call(("run_text", "every"), "InvalidHours", [HOURS, {}], is_run, ""),
+    *text_call(("rows_text", "some"), "InvalidRows", [[("ann", 1)]], ROW_LIST[2]),
+    *text_call(("windows_text", "windows"), "InvalidWindows", WINDOWS[1], is_any_windows, ""),
+    *text_call(("stair_text", "stair"), "InvalidStair", Stair(2, [1]), is_stair),
+    *text_call(("sights_text", "sights"), "InvalidSights", SEEN, is_sights),
     (books.alike_from, [ONE_BOOK, OTHER_BOOK, ("most", 2, is_count_from_1, "InvalidCount")]),
 ]
 
@@ -363,6 +453,9 @@ def empty(value):
     if isinstance(value, Sights):
         empty(value.names())
         empty(value.rows())
+    if isinstance(value, Hall):
+        empty(value.hours())
+        empty(value.log())
 
 
 def readable(value):
@@ -372,6 +465,8 @@ def readable(value):
         return (value.begin, value.corners)
     if isinstance(value, Sights):
         return (value.names(), value.most(), value.rows())
+    if isinstance(value, Hall):
+        return readable([value.book(), value.hours(), value.rounds(), value.log()])
     if isinstance(value, (tuple, list)):
         return type(value)(readable(inner) for inner in value)
     if isinstance(value, Book):

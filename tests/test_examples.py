@@ -1,4 +1,4 @@
-"""The examples of sections 3 to 12 of the document, as they stand there."""
+"""The examples of sections 3 to 16 of the document, as they stand there."""
 
 import unittest
 
@@ -184,6 +184,88 @@ watched(Book([("a", Rule(("of", "a", 2)))]), {"a": 1}, 2, None) == {"a": Sights(
 # True
 '''
 
+LEADS = '''
+from leafwaits.books import Book
+from leafwaits.differences import hours_of, is_why_at_most, spread, why_at_most
+from leafwaits.leads import front, front_hours, lead, lead_hours, rear, sure_order
+from leafwaits.rounds import hours_after
+from leafwaits.rules import Rule, told
+ann = Rule(("last", [("of", "ann", 2), ("of", "bob", 0)]))
+bob, cy = Rule(("first", [("of", "ann", 1), ("of", "cy", 3)])), Rule(("of", "ann", 0))
+[spread(ann, bob), spread(bob, cy), why_at_most(bob, ann, -1), why_at_most(bob, ann, -2), is_why_at_most(bob, ann, 0, [0]), is_why_at_most(bob, ann, 0, [1])]
+# [(1, None), (None, 1), [0], None, True, False]
+there = hours_of(ann, bob, 7)
+[told(ann, there) - told(bob, there), hours_of(ann, bob, 0), sorted(there)]
+# [7, None, ['ann', 'bob', 'cy']]
+trio = Book([("ann", ann), ("bob", bob), ("cy", cy)])
+[lead(trio, "bob", "ann"), lead(trio, "cy", "ann"), lead(trio, "bob", "cy"), lead(trio, "cy", "bob"), front(trio, "cy"), front(trio, "ann"), front(trio, "bob"), rear(trio, "cy"), sure_order(trio)]
+# [-1, -2, 1, None, 1, -2, None, -2, [('bob', 'ann'), ('cy', 'ann')]]
+kim, jo = Rule(("last", [("of", "jo", 0), ("of", "moe", 0)])), Rule(("first", [("of", "kim", 0), ("of", "moe", 0)]))
+three = Book([("jo", jo), ("kim", kim), ("moe", Rule(("of", "moe", 0)))])
+early = hours_after(trio, front_hours(trio, "cy", 1), 1)
+[lead(three, "kim", "moe"), lead(three, "kim", "moe", 2), lead_hours(three, "kim", "moe", 1, 2), early["cy"] + 1 == min([early["ann"], early["bob"]])]
+# [None, 0, None, True]
+'''
+
+HALLS = '''
+from leafwaits.books import Book
+from leafwaits.live import Hall, alike_halls, check_parting_changes, parting_changes, replayed, same_runs
+from leafwaits.rules import Rule
+rising = Rule(("of", "ann", 2))
+book = Book([("ann", rising), ("bob", Rule(("last", [("of", "ann", 1), ("of", "bob", 1)])))])
+hall = Hall(book, {"ann": 0, "bob": 5})
+first_calls = [hall.round(2) == {"ann": 4, "bob": 7}, hall.reach("ann", 1), hall.reach("bob", 9), hall.spare("ann", "bob", 1), hall.spare("bob", "ann", 9), hall.rounds()]
+first_calls
+# [True, ['ann', 'bob'], ['bob'], 3, None, 2]
+second_calls = [hall.late("ann", 4), hall.round() == {"ann": 10, "bob": 9}, hall.log(), hall.undo(), hall.undo(), hall.hours() == {"ann": 4, "bob": 7}, hall.redo(), hall.hours()["ann"]]
+second_calls
+# [None, True, [('round', 2), ('late', 'ann', 4), ('round', 1)], None, None, True, None, 8]
+[hall.attempt(lambda same: same.round(300)["ann"]), hall.rounds(), replayed(book, {"ann": 0, "bob": 5}, hall.log()).hours() == hall.hours()]
+# [608, 2, True]
+soon, now = Rule(("of", "ann", 1)), Rule(("now", "ann", 0))
+near, far = Hall(Book([("ann", soon), ("bob", now)]), {"ann": 0, "bob": 0}), Hall(Book([("ann", soon), ("bob", soon)]), {"ann": 0, "bob": 0})
+[same_runs(near, far), alike_halls(near, far), check_parting_changes(near, far, [("put", "ann", rising), ("round", 1)]), check_parting_changes(near, far, [("round", 1)]), check_parting_changes(near, far, parting_changes(near, far))]
+# [True, False, True, False, True]
+second = Rule(("rank", 2, [("of", "ann", 1), ("of", "ann", 1), ("of", "tom", 5)]))
+three = [Hall(Book([("ann", soon), ("bob", rule), ("tom", soon)]), {"ann": 0, "bob": 0, "tom": 9}) for rule in [second, soon]]
+[same_runs(three[0], three[1]), check_parting_changes(three[0], three[1], [("leave", "tom")]), parting_changes(three[0], three[0]), three[1].leave("tom"), three[1].book().names(), len(three[1])]
+# [True, True, None, None, ['ann', 'bob'], 2]
+'''
+
+SCRIPTS = '''
+from leafwaits.scripts import parting_begin, play, read_script, refused, said_text, same_end, script_text, trimmed
+from leafwaits.live import Hall
+pair = Book([("ann", Rule(("of", "ann", 2))), ("bob", Rule(("last", [("of", "ann", 1), ("of", "bob", 1)])))])
+script = [("late", "bob", 3), ("round", 1), ("put", "ann", Rule(("now", "bob", 0))), ("leave", "bob"), ("undo",), ("hours",)]
+[refused(pair, script), read_script(script_text(script)) == script, said_text(play(Hall(pair, {"ann": 0, "bob": 0}), script)).split(chr(10))]
+# [[3], True, ['done', 'passed ann 2, bob 4', 'done', 'refused StillNeeded', 'done', 'hours ann 2, bob 4']]
+[same_end(pair, [("late", "ann", 1), ("round", 1)], [("round", 1), ("late", "ann", 1)]), same_end(pair, [("round", 1), ("round", 1)], [("round", 2)]), parting_begin(pair, [("round", 2)], [("round", 1), ("round", 1), ("hours",)])]
+# [False, True, None]
+script_text([("put", "ann", Rule(("now", "bob", 0))), ("join", "cy", Rule(("of", "ann", 1)), -5), ("try", [("late", "ann", 2)])]).split(chr(10))
+# ['put ann: now bob 0', 'join cy -5: ann 1', 'try', '  late ann 2', 'end']
+trimmed(pair, [("late", "bob", 0), ("hours",), ("round", 1), ("undo",), ("late", "ann", 2)])
+# [('undo',), ('late', 'ann', 2)]
+'''
+
+TEXTS = r'''
+from leafwaits.books import Book
+from leafwaits.rules import Rule
+from leafwaits.seen import Sights
+from leafwaits.stairs import Stair
+from leafwaits.texts import book_text, hours_text, read_book, read_hours, read_rule, read_sights, read_stair, read_windows, rows_text, rule_text, run_text, sights_text, stair_text, windows_text
+early = Rule(("first", [("of", "ann", 3), ("last", [("of", "bea", 1), ("now", "cal", -2)])]))
+trio = Book([("cal", Rule(("of", "cal", 0))), ("ann", early), ("bea", Rule(("rank", 2, [("of", "ann", 0), ("of", "bea", 4)])))])
+[rule_text(early), rule_text(Rule(("rank", 1, [("now", "now", 0), ("of", "now", -3), ("of", "rank", 2)]))), book_text(trio).split(chr(10))]
+# ['first(ann 3, last(bea 1, now cal -2))', 'rank 1(now now 0, now -3, rank 2)', ['ann: first(ann 3, last(bea 1, now cal -2))', 'bea: rank 2(ann 0, bea 4)', 'cal: cal 0']]
+[hours_text({"cal": 0, "ann": -4}), hours_text({}), run_text([{"ann": 1}, {"ann": 3}]).split(chr(10)), rows_text([[("ann", 3)], [("bea", 1), ("cal", 2)]]).split(chr(10)), windows_text({(1, "bea"): (None, 4), (0, "ann"): (-2, None)}).split(chr(10))]
+# ['ann -4, cal 0', 'none', ['ann 1', 'ann 3'], ['ann 3', 'bea 1, cal 2'], ['-2 to: 0 ann', 'to 4: 1 bea']]
+[stair_text(Stair(2, [0, 2])), stair_text(Stair(7, [])), read_stair("2: 0, 2") == Stair(2, [0, 2]), read_book(book_text(trio)) == trio, read_rule("first(ann 3, last(bea 1, now cal -2))") == early, read_hours("ann -4, cal 0") == {"ann": -4, "cal": 0}, read_windows("to 4: 1 bea") == {(1, "bea"): (None, 4)}]
+# ['2: 0, 2', '7', True, True, True, True, True]
+watcher = read_sights("most 5: ann, bea\n3 to 4: ann 0, bea -2\nto: ann 1, bea 1")
+[watcher.names(), watcher.most(), len(watcher), sights_text(watcher.without(1)).split(chr(10)), sights_text(Sights(["ann"], None, []))]
+# [['ann', 'bea'], 5, 2, ['most 5: ann, bea', '3 to 4: ann 0, bea -2'], 'any: ann']
+'''
+
 
 def run_example(test, text):
     """Runs the lines of an example; what a line tells is told again by the comment below it."""
@@ -229,6 +311,19 @@ class ExamplesTest(unittest.TestCase):
 
     def test_section_12(self):
         run_example(self, SIGHTS)
+
+    def test_section_13(self):
+        run_example(self, LEADS)
+
+    def test_section_14(self):
+        run_example(self, HALLS)
+
+    def test_section_15(self):
+        # The examples go on from those ahead of them.
+        run_example(self, HALLS + SCRIPTS)
+
+    def test_section_16(self):
+        run_example(self, TEXTS)
 
 
 if __name__ == "__main__":

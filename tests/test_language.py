@@ -25,12 +25,18 @@ INTERFACE = {
             "rule_with after_rounds must_see lots_seen lots_stop same_sights unlike_rule needless telling_hours "
             "still_fit lots_wrong watched last_latest last_moments",
     "differences": "spread hours_of why_at_most is_why_at_most",
+    "leads": "lead lead_hours front front_hours rear rear_hours sure_order",
+    "live": "Hall replayed same_runs alike_halls parting_changes check_parting_changes",
+    "scripts": "play script_text read_script said_text refused same_end parting_begin check_parting_begin trimmed",
+    "texts": "rule_text book_text hours_text run_text rows_text windows_text stair_text sights_text read_rule read_book "
+             "read_hours read_run read_rows read_windows read_stair read_sights",
 }
 METHODS = {
     "Rule": "__init__ term __eq__",
     "Book": "__init__ names rule changed with_scribe without __len__ __eq__",
     "Stair": "__init__ begin corners value end undone shifted __eq__",
     "Sights": "__init__ names most rows __len__ __eq__ with_row without",
+    "Hall": "__init__ book hours rounds __len__ round late put join leave log undo redo trial attempt copy reach spare",
 }
 PROPERTIES = {"Stair": ["begin", "corners"]}
 BUILTINS = """len range enumerate zip min max sum abs sorted reversed int str bool list tuple dict set isinstance ord
@@ -118,8 +124,8 @@ class LanguageTest(unittest.TestCase):
                     self.assertTrue(all(isinstance(argument, ast.Name) for argument in node.args), path)
 
     def test_no_other_forms(self):
-        barred = (ast.Global, ast.Nonlocal, ast.AsyncFunctionDef, ast.Await, ast.Try, ast.GeneratorExp, ast.Yield,
-                  ast.Div, ast.Pow, ast.JoinedStr, ast.Set, ast.AnnAssign)
+        barred = (ast.Global, ast.Nonlocal, ast.AsyncFunctionDef, ast.Await, ast.GeneratorExp, ast.Yield, ast.Div, ast.Pow,
+                  ast.Set, ast.AnnAssign)
         for path, tree in trees():
             for node in ast.walk(tree):
                 self.assertNotIsInstance(node, barred, path)
@@ -128,6 +134,38 @@ class LanguageTest(unittest.TestCase):
                     self.assertFalse(isinstance(node.value, str) and "%" in node.value, path)
                 if isinstance(node, ast.Compare) and any(isinstance(sign, (ast.Is, ast.IsNot)) for sign in node.ops):
                     self.assertIsNone(node.comparators[0].value)
+
+    def test_own_errors_alone_are_caught_by_name(self):
+        own = [node.name for node in ast.parse((FOLDER / "errors.py").read_text()).body if isinstance(node, ast.ClassDef)]
+        for path, tree in trees():
+            for node in ast.walk(tree):
+                if isinstance(node, ast.Try):
+                    self.assertTrue(node.handlers and not node.orelse and not node.finalbody, path)
+                    self.assertTrue(all(handler.type.id in own and not handler.name for handler in node.handlers), path)
+
+    def test_within_braces_stands_no_string(self):
+        for path, tree in trees():
+            for node in ast.walk(tree):
+                if isinstance(node, ast.FormattedValue):
+                    self.assertTrue(node.conversion == -1 and node.format_spec is None, path)
+                    strings = [inner for inner in ast.walk(node.value) if isinstance(inner, (ast.Constant, ast.JoinedStr))]
+                    self.assertFalse(any(isinstance(getattr(inner, "value", ""), str) for inner in strings), path)
+
+    def test_no_two_files_import_from_each_other(self):
+        imported = {}
+        for path, tree in trees():
+            imported[path.stem] = {node.module.split(".")[1] for node in ast.walk(tree)
+                                   if isinstance(node, ast.ImportFrom) and node.module not in LIBRARY}
+        while imported:
+            ready = [name for name, others in imported.items() if not others & set(imported)]
+            self.assertTrue(ready, imported)
+            imported = {name: others for name, others in imported.items() if name not in ready}
+
+    def test_each_import_is_used(self):
+        for path, tree in trees():
+            names = [alias.name for node in ast.walk(tree) if isinstance(node, ast.ImportFrom) for alias in node.names]
+            used = [node.id for node in ast.walk(tree) if isinstance(node, ast.Name)]
+            self.assertEqual([name for name in names if name not in used], [], path)
 
     def test_sets_stand_in_len_and_sorted_only(self):
         for path, tree in trees():

@@ -10,16 +10,22 @@ from leafwaits.late import can_ever, held_late, is_can_ever, late_at, late_hours
 from leafwaits.late import reached, stopping
 from leafwaits.latebook import harmless, is_late_rule, late_after, late_rule, over_told, parting_lates, same_lates
 from leafwaits.latebook import whole_names
+from leafwaits.leads import front, front_hours, lead, lead_hours, rear, rear_hours, sure_order
+from leafwaits.live import Hall, alike_halls, check_parting_changes, parting_changes, replayed, same_runs
 from leafwaits.rounds import first_round, hours_after, meeting, run
 from leafwaits.rows import alike, alone, columns, lean, matters, of_columns, of_rows, parting, reasons, rows, slack
 from leafwaits.rows import telling
 from leafwaits.rules import Rule, mirrored, put_in, told
 from leafwaits.runs import carried, check_earlier, check_later, deciding, delayers, earlier_hours, felt, hasteners
 from leafwaits.runs import holders, later_hours, leeway, open_names, pacers, spare
+from leafwaits.scripts import check_parting_begin, parting_begin, play, read_script, refused, said_text, same_end
+from leafwaits.scripts import script_text, trimmed
 from leafwaits.seen import Sights, after_rounds, clash, earliest_at, last_latest, last_moments, latest_at, lots_seen
 from leafwaits.seen import lots_stop, lots_wrong, moments, must_see, needless, rule_fits, rule_with, same_sights
 from leafwaits.seen import still_fit, telling_hours, unlike_rule, watched
 from leafwaits.stairs import Stair, first_of, first_unlike, last_of, put_behind, rank_of, widest_stair
+from leafwaits.texts import book_text, read_book, read_rows, read_rule, read_run, read_sights, read_stair, read_windows
+from leafwaits.texts import rows_text, rule_text, run_text, sights_text, stair_text, windows_text
 from leafwaits.windows import boxes, common_room, keeps, room, same_windows, some_hours, tightest, why_none, widening
 from support import random_hours, random_rule, seeded
 
@@ -357,6 +363,118 @@ class LimitsTest(unittest.TestCase):
             self.assertIsNone(hours_of(one, other, most + 1))
             self.assertTrue(is_why_at_most(one, other, most, why_at_most(one, other, most)))
             self.assertIsNone(why_at_most(one, other, most - 1))
+
+    def test_leads_in_the_greatest_books(self):
+        four_parts = {name: (term[0], min(term[1], 4), term[2][:4]) for name, term in THREE.items()}
+        for terms, many in [(FIVE, 2), (FIVE_MORE, 2), (FIVE_LATE, 2), (four_parts, 3)]:
+            book = book_of(terms)
+            for call, hours_call, name in [(front, front_hours, "b"), (rear, rear_hours, "a"), (rear, rear_hours, "c")]:
+                most = call(book, name, many)
+                hours = hours_call(book, name, -10 ** 9 if most is None else most, many)
+                self.assertTrue(hours is None or len(hours) == len(book))
+                self.assertTrue(most is None or hours_call(book, name, most + 1, many) is None)
+            for one, other in [("a", "b"), ("c", "a")]:
+                most = lead(book, one, other, many)
+                number = 10 ** 29 if most is None else most
+                now = hours_after(book, lead_hours(book, one, other, number, many), many)
+                self.assertEqual(now[one] - now[other], number)
+            self.assertEqual(sure_order(book), sorted(sure_order(book)))
+
+    def test_a_hall_of_a_hundred_changes(self):
+        hall = Hall(book_of(FIVE), {name: 10 ** 29 for name in "abcde"})
+        for at in range(25):
+            hall.round(300)
+            hall.late("abcde"[at % 5], 10 ** 29)
+            hall.put("c", Rule(("rank", 2, FIVE["c"][2][at % 3:])))
+            hall.round(300)
+        self.assertEqual([hall.rounds(), len(hall.log())], [15000, 100])
+        self.assertEqual(replayed(book_of(FIVE), {name: 10 ** 29 for name in "abcde"}, hall.log()).hours(), hall.hours())
+        for _ in range(100):
+            hall.undo()
+        self.assertEqual(hall.hours()["b"], 10 ** 29)
+        for _ in range(100):
+            hall.redo()
+        self.assertEqual([hall.rounds(), hall.copy().hours()], [15000, hall.hours()])
+        self.assertEqual(self.deep(hall, 10), 15010)
+        self.assertEqual(hall.rounds(), 15000)
+
+    def deep(self, hall, many):
+        with hall.trial():
+            hall.round()
+            return hall.attempt(lambda same: self.deep(same, many - 1)) if many > 1 else hall.rounds()
+
+    def test_reach_of_thirty_rounds(self):
+        for terms in [FIVE, FIVE_MORE, FIVE_LATE, THREE]:
+            book = book_of(terms)
+            hall = Hall(book, {name: at * 137 for at, name in enumerate(book.names())})
+            for name in book.names():
+                reach = hall.reach(name, 30)
+                for other in book.names():
+                    self.assertEqual(other in reach, hall.spare(name, other, 30) is not None)
+
+    def test_partings_of_the_greatest_halls(self):
+        for terms in [FIVE, FIVE_MORE, FIVE_LATE, THREE]:
+            book = book_of(terms)
+            hours = {name: at * 10 ** 29 for at, name in enumerate(book.names())}
+            for name, term in terms.items():
+                rank = term[1] if term[0] == "rank" else 1
+                for other_term in [("rank", 1 + rank % len(term[-1]), term[-1]), (term[0],) + term[1:-1] + (term[-1][::-1],)]:
+                    one, other = Hall(book, hours), Hall(book.changed(name, Rule(other_term)), hours)
+                    changes = parting_changes(one, other)
+                    self.assertEqual(changes is None, alike_halls(one, other))
+                    self.assertTrue(changes is None or len(changes) <= 2 * len(book))
+                    self.assertEqual(check_parting_changes(one, other, changes), changes is not None)
+                    self.assertTrue(same_runs(one, other) or changes is not None)
+
+    def test_a_script_of_thirty_commands(self):
+        commands = [("round", 300), ("late", "a", 10 ** 29), ("put", "c", Rule(FIVE["c"])), ("undo",), ("redo",), ("hours",)] * 4
+        script = commands[1:] + [("try", [("round", 300), ("try", [("leave", "a"), ("try", [("try", [("round", 300)])])])])]
+        hall = Hall(book_of(FIVE), {name: 10 ** 29 for name in "abcde"})
+        said = play(hall, script)
+        self.assertEqual([len(said), hall.rounds()], [24, 900])
+        self.assertEqual(refused(book_of(FIVE), script), [])
+        self.assertEqual(read_script(script_text(script)), script)
+        self.assertEqual(len(said_text(said).split("\n")), 30)
+
+    def test_ends_of_scripts(self):
+        terms = {
+            "c": ("rank", 3, [("of", "b", -85), ("of", "c", -49), ("of", "a", -4), ("of", "d", -75)]),
+            "d": ("rank", 3, [("now", "c", -72), ("now", "c", -29), ("of", "a", 91), ("of", "d", 62)]),
+            "a": ("rank", 2, [("now", "c", -10), ("of", "c", 27), ("now", "d", -89), ("of", "b", -48)]),
+            "b": ("rank", 2, [("of", "d", -89), ("of", "c", -35), ("now", "a", 30), ("now", "a", -10)]),
+        }
+        book = book_of(terms)
+        script = [("leave", "zed"), ("late", "a", 10 ** 29), ("round", 2), ("late", "b", 10 ** 12), ("put", "c", Rule(terms["c"])),
+                  ("late", "c", 7), ("round", 1), ("hours",)]
+        other = [command for command in script if command[0] != "hours"]
+        self.assertTrue(same_end(book, script, other))
+        self.assertEqual(trimmed(book, script), trimmed(book, other))
+        other[5] = ("late", "c", 8)
+        hours = parting_begin(book, script, other)
+        self.assertTrue(check_parting_begin(book, script, other, hours))
+        joined = [("late", "a", 5), ("round", 1), ("round", 2), ("late", "d", 1)]
+        self.assertIsNone(parting_begin(book, joined, joined[:1] + [("round", 2), ("round", 1), joined[-1]]))
+
+    def test_the_greatest_texts(self):
+        line = "rank 14(" + ", ".join(["now abcdefgh -123456789012"] * 7 + ["abcdefgi 123456789012"] * 7) + ")"
+        self.assertEqual(rule_text(read_rule(line)), line)
+        hours = ", ".join(f"{first}{second} {10 ** 29}" for first in "abc" for second in "abcd")
+        every = "\n".join([hours] * 60)
+        self.assertEqual(run_text(read_run(every)), every)
+        self.assertEqual(rows_text(read_rows(every)), every)
+        windows = "\n".join(f"{-10 ** 29} to {10 ** 29}: {at} abcdefgh" for at in range(60))
+        self.assertEqual(windows_text(read_windows(windows)), windows)
+        names = [word.split(" ")[0] for word in hours.split(", ")]
+        sights = "\n".join(["any: " + ", ".join(names)] + ["to: " + hours] * 59)
+        self.assertEqual(sights_text(read_sights(sights)), sights)
+        book = "\n".join(f"{name}: last(" + ", ".join(f"{other} {10 ** 9}" for other in names) + ")" for name in names)
+        self.assertEqual(book_text(read_book(book)), book)
+        script = "\n".join([f"late abcdefgh {10 ** 29}"] * 60)
+        self.assertEqual(script_text(read_script(script)), script)
+        stair = f"{-10 ** 29}: " + ", ".join(str(at * 10 ** 20) for at in range(18))
+        self.assertEqual(stair_text(read_stair(stair)), stair)
+        deep = "first(" * 60 + "a 0" + ")" * 60
+        self.assertEqual(rule_text(read_rule(deep)), deep)
 
     def test_stairs_of_forty_corners(self):
         rng = seeded(6)
