@@ -120,6 +120,17 @@ def rank_of(number, stairs):
 
 def stair_of_rank(number, stairs):
     """The stair of the number-th of what some stairs tell, however many they are."""
+    if number not in (1, len(stairs)):
+        return _stair_of_rank_at_once(number, stairs)
+    # The least and the greatest are those of two at a time, which spares most crossings.
+    found = stairs[0]
+    for stair in stairs[1:]:
+        found = _stair_of_rank_at_once(1 if number == 1 else 2, [found, stair])
+    return found
+
+
+def _stair_of_rank_at_once(number, stairs):
+    """The stair of the number-th of what some stairs tell, by all counts at which two of them may cross."""
     counts = _corners_of(stairs)
     for at, stair in enumerate(stairs):
         for other in stairs[:at]:

@@ -2,8 +2,7 @@
 
 from leafwaits.books import need_book, turned_about
 from leafwaits.checks import is_windows, need_hours, need_one_of
-from leafwaits.edges import LATEST_ROUND, beginning_at, hour_at_edge, is_beyond, is_within, moved_rows, rows_of_highs
-from leafwaits.edges import rows_of_keys, tops_of, turned_edge, turned_hour
+from leafwaits.edges import LATEST_ROUND, Edges, is_within, turned_edge, turned_hour
 from leafwaits.errors import InvalidWindows
 from leafwaits.gaps import widest_gap
 from leafwaits.rounds import run
@@ -53,14 +52,15 @@ def ends(book, windows):
     """The list of the greatest edges such that all hours that are not behind them keep all highs."""
     need_book(book)
     _need_windows(book, windows)
-    return tops_of(book, _highs_of(windows))
+    highs = _highs_of(windows)
+    return Edges(book, list(highs)).tops(highs)
 
 
 def begins(book, windows):
     """The list of the least edges such that all hours that are not ahead of them keep all lows."""
     need_book(book)
     _need_windows(book, windows)
-    turned = tops_of(turned_about(book), _highs_of(_turned(windows)))
+    turned = ends(turned_about(book), _turned(windows))
     return [turned_edge(edge) for edge in turned[::-1]]
 
 
@@ -75,20 +75,20 @@ def _is_box(low, high):
     return all([low[name] is None or high[name] is None or low[name] <= high[name] for name in low])
 
 
-def _lows_broken_at(known, windows, edge):
-    """The ascending list of the keys whose lows are not kept from an edge on, where None is as late as one likes."""
+def _lows_broken_in(windows, rounds):
+    """The ascending list of the keys whose lows are not kept in rounds, where None is as late as one likes."""
     broken = []
-    for key, low in sorted(_lows_of(windows).items()):
-        hour = hour_at_edge(known[key], edge)
+    for (many, name), low in sorted(_lows_of(windows).items()):
+        hour = rounds[many][name]
         if hour is not None and hour < low:
-            broken.append(key)
+            broken.append((many, name))
     return broken
 
 
-def _good_ends(book, windows):
-    """The ends from which on all windows are kept, where None is as late as one likes."""
-    known = rows_of_keys(book, list(windows))
-    return [edge for edge in tops_of(book, _highs_of(windows)) if not _lows_broken_at(known, windows, edge)]
+def _good_ends(edges, windows):
+    """The ends from which on all windows are kept, None as late as one likes, each with the hours of its rounds."""
+    every = [(edge, edges.rounds(edge)) for edge in edges.tops(_highs_of(windows))]
+    return [(edge, rounds) for edge, rounds in every if not _lows_broken_in(windows, rounds)]
 
 
 def _hours_of(windows):
@@ -99,18 +99,19 @@ def some_hours(book, windows):
     """Any hours that keep windows, None if there are none."""
     need_book(book)
     _need_windows(book, windows)
-    found = _good_ends(book, windows)
-    return beginning_at(book, found[0], _hours_of(windows)) if found else None
+    edges = Edges(book, list(windows))
+    found = _good_ends(edges, windows)
+    return edges.beginning(found[0][0], _hours_of(windows)) if found else None
 
 
 def why_none(book, windows):
     """For each end the round and the scribe whose low is not kept from it on, None if some hours keep the windows."""
     need_book(book)
     _need_windows(book, windows)
-    known = rows_of_keys(book, list(windows))
+    edges = Edges(book, list(windows))
     found = []
-    for edge in tops_of(book, _highs_of(windows)):
-        broken = _lows_broken_at(known, windows, edge)
+    for edge in edges.tops(_highs_of(windows)):
+        broken = _lows_broken_in(windows, edges.rounds(edge))
         if not broken:
             return None
         many, name = broken[0]
@@ -141,12 +142,8 @@ def _span_or_none(least, most):
 
 def _latest_hours(book, windows, hours, name):
     """For each end that leaves room for what the other scribes begin with the hour that it tells for a scribe."""
-    others = {other: hours[other] for other in book.names() if other != name}
-    found = []
-    for edge in tops_of(book, _highs_of(windows)):
-        if is_within(others, {other: edge[other] for other in others}):
-            found.append(edge[name])
-    return found
+    others = [other for other in book.names() if other != name]
+    return [edge[name] for edge in ends(book, windows) if is_within(hours, {other: edge[other] for other in others})]
 
 
 def common_room(book, windows, hours):
@@ -173,14 +170,14 @@ def tightest(book, windows):
 
 def _latest_of_keys(book, windows):
     """For each key the greatest hour over all beginnings that keep windows, None for no bound; None if none keeps."""
-    known = rows_of_keys(book, list(windows))
-    found = _good_ends(book, windows)
-    if not found:
+    edges = Edges(book, list(windows))
+    every = [rounds for _, rounds in _good_ends(edges, windows)]
+    if not every:
         return None
     latest = {}
-    for key in windows:
-        told = [hour_at_edge(known[key], edge) for edge in found]
-        latest[key] = None if None in told else max(told)
+    for many, name in windows:
+        told = [rounds[many][name] for rounds in every]
+        latest[(many, name)] = None if None in told else max(told)
     return latest
 
 
@@ -189,34 +186,35 @@ def same_windows(book, one, other):
     need_book(book)
     _need_windows(book, one)
     _need_windows(book, other)
-    turned_book = turned_about(book)
-    for some, others in [(one, other), (other, one)]:
-        hours = _hours_beyond(book, some, others)
-        if hours is not None:
-            return hours
-        hours = _hours_beyond(turned_book, _turned(some), _turned(others))
-        if hours is not None:
-            return turned_edge(hours)
+    hours = _hours_beyond(book, one, other)
+    if hours is not None:
+        return hours
+    turned = _hours_beyond(turned_about(book), _turned(one), _turned(other))
+    return None if turned is None else turned_edge(turned)
+
+
+def _hours_beyond(book, one, other):
+    """Any hours that keep one of two windows, and do not keep all highs of the other one, None if there are none."""
+    edges = Edges(book, list(one) + list(other))
+    for windows, others in [(one, other), (other, one)]:
+        for edge, rounds in _good_ends(edges, windows):
+            if _is_some_high_broken_in(others, rounds):
+                return edges.beginning(edge, _hours_of(one) + _hours_of(other))
     return None
 
 
-def _hours_beyond(book, windows, others):
-    """Any hours that keep windows, and do not keep all highs of other ones, None if there are none."""
-    highs = _highs_of(others)
-    known = rows_of_keys(book, list(highs))
-    for edge in _good_ends(book, windows):
-        if any([is_beyond(hour_at_edge(known[key], edge), high) for key, high in highs.items()]):
-            return beginning_at(book, edge, _hours_of(windows) + _hours_of(others))
-    return None
+def _is_some_high_broken_in(windows, rounds):
+    """Whether some high is not kept in rounds, where None is as late as one likes."""
+    told = [(rounds[many][name], high) for (many, name), high in _highs_of(windows).items()]
+    return any([hour is None or hour > high for hour, high in told])
 
 
 def widening(book, windows):
     """The least number by which lows less and highs more would let some beginning keep windows, None if none is."""
     need_book(book)
     _need_windows(book, windows)
-    lows = _lows_of(windows)
-    known = rows_of_keys(book, list(lows))
+    edges = Edges(book, list(windows))
     # What the least of all hours less their lows tells, and what the greatest of all hours less their highs tells.
-    over_lows = [row for key, low in lows.items() for row in moved_rows(known[key], -low)]
-    apart = widest_gap(over_lows, rows_of_highs(book, _highs_of(windows)))
+    over_lows = [row for some in edges.rows_over(_lows_of(windows)) for row in some]
+    apart = widest_gap(over_lows, edges.rows_of_highs(_highs_of(windows)))
     return None if apart is None else -(apart // 2)

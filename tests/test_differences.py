@@ -101,6 +101,9 @@ class WhyTest(unittest.TestCase):
         for value in any_objects() + [[False], (0,), [0, 0], [1], [2], [-1], [0.5][:0], ["0"], {0: 0}]:
             self.assertIs(is_why_at_most(one, Rule(("of", "ann", 0)), 0, value), repr(value) == "[0]")
         self.assertTrue(is_why_at_most(one, Rule(("of", "ann", 0)), 0, [0]))
+        self.assertTrue(is_why_at_most(one, one, 0, [0, 1]))
+        for value in [[False, 1], [0, True], [0, None], [0], [0, 1, 1], (0, 1), [1, 0]]:
+            self.assertIs(is_why_at_most(one, one, 0, value), False)
         self.assertFalse(is_why_at_most(one, Rule(("of", "ann", 0)), -1, [0]))
 
 

@@ -55,6 +55,19 @@ class LeadTest(unittest.TestCase):
                 self.assertEqual(spread(after(book, 1).rule(one), after(book, 1).rule(other)),
                                  (None if lead(book, other, one) is None else -lead(book, other, one), lead(book, one, other)))
 
+    def test_one_round_if_nothing_is_told(self):
+        jo, kim = Rule(("first", [("of", "kim", 0), ("of", "moe", 0)])), Rule(("last", [("of", "jo", 0), ("of", "moe", 0)]))
+        book = Book([("jo", jo), ("kim", kim), ("moe", Rule(("of", "moe", 0)))])
+        self.assertEqual([lead(book, "kim", "moe"), lead(book, "kim", "moe", 2)], [None, 0])
+        self.assertEqual([rear(book, "kim"), rear(book, "kim", 1), rear(book, "kim", 2)], [None, None, 0])
+        self.assertEqual([front(book, "jo"), front(book, "jo", 1), front(book, "jo", 2)], [None, None, 0])
+        self.assertEqual([lead_hours(book, "kim", "moe", 5, 2), rear_hours(book, "kim", 5, 2), front_hours(book, "jo", 5, 2)],
+                         [None] * 3)
+        for hours, one, other in [(lead_hours(book, "kim", "moe", 5), "kim", "moe"), (rear_hours(book, "kim", 5), "kim", "moe"),
+                                  (front_hours(book, "moe", -5), "moe", "jo")]:
+            now = hours_after(book, hours, 1)
+            self.assertEqual(now[one] - now[other], 5)
+
     def test_leads_never_grow(self):
         rng = seeded(3)
         fewer = 0

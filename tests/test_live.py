@@ -497,6 +497,25 @@ class AlikeTest(unittest.TestCase):
                 return any(made) and at == len(changes) - 1
         return one.hours() != other.hours()
 
+    def test_partings_from_hours_far_from_one_another(self):
+        rng = seeded(8)
+        parted = 0
+        while parted < 60:
+            names = ["a", "b", "c"][:rng.randint(1, 3)]
+            one = random_book(rng, names, 3, 9)
+            name = rng.choice(names)
+            rule = random_rule(rng, 3, names, named(one.rule(name))[1], 9)
+            if named(rule) != named(one.rule(name)):
+                continue
+            hours = {each: rng.choice([0, 5, -10 ** 29, 10 ** 29]) for each in names}
+            halls = [Hall(one, hours), Hall(one.changed(name, rule), hours)]
+            changes = parting_changes(*halls)
+            self.assertEqual(changes is None, alike_halls(*halls))
+            if changes is not None:
+                parted += 1
+                self.assertLessEqual(len(changes), 2 * len(names))
+                self.assertTrue(check_parting_changes(*halls, changes) and self.part(*halls, changes))
+
     def test_random_changes_never_part_halls_that_are_alike(self):
         rng = seeded(6)
         asked = parted = 0

@@ -160,6 +160,15 @@ class DecidingTest(unittest.TestCase):
         rule = Rule(("first", [("of", "a", 0), ("of", "b", 0)]))
         self.assertEqual([holders(rule, {"a": 2, "b": 1}), pacers(rule, {"a": 2, "b": 1})], [[["a", "b"]], [["b"]]])
 
+    def test_lists_stand_in_order(self):
+        # Of two that are least, the longer one comes first here.
+        rule = Rule(("first", [("of", "b", 0), ("last", [("of", "a", 0), ("of", "c", 0)])]))
+        turned = Rule(("last", [("of", "b", 0), ("first", [("of", "a", 0), ("of", "c", 0)])]))
+        hours = {"a": 0, "b": 0, "c": 0}
+        lists = [["a", "c"], ["b"]]
+        self.assertEqual([hasteners(rule, hours), pacers(rule, hours)], [lists, lists])
+        self.assertEqual([holders(turned, hours), delayers(turned, hours)], [lists, lists])
+
     def test_idle_names_stand_in_no_list(self):
         rule = Rule(("first", [("of", "a", 0), ("last", [("of", "a", 1), ("of", "b", 0)])]))
         for call in [holders, hasteners, pacers, delayers]:

@@ -96,11 +96,12 @@ def stretches(values):
 
 class SightsTest(unittest.TestCase):
     def test_what_they_tell(self):
-        hours = {"b": 1, "a": 0}
+        hours, names = {"b": 1, "a": 0}, ["a", "b"]
         given = [(hours, 2, None), ({"a": 10 ** 29, "b": -5}, None, None)]
-        sights = Sights(["a", "b"], 10 ** 29, given)
+        sights = Sights(names, 10 ** 29, given)
         hours["a"] = 99
         given.append(None)
+        names.append("zed")
         right = [({"a": 0, "b": 1}, 2, None), ({"a": 10 ** 29, "b": -5}, None, None)]
         self.assertEqual([sights.names(), sights.most(), sights.rows(), len(sights)], [["a", "b"], 10 ** 29, right, 2])
         sights.names().append("c")
@@ -285,6 +286,9 @@ class MomentsTest(unittest.TestCase):
         self.assertEqual(moments(Sights(["a", "b"], 3, []), {"a": 0, "b": 4}), [(0, 7)])
         self.assertEqual(moments(Sights(["a", "b"], 3, []), {"a": 0, "b": 5}), [(0, 3), (5, 8)])
         self.assertEqual(moments(Sights(["a", "b"], 0, []), {"a": 0, "b": 1}), [(0, 1)])
+        far = {"a": 0, "b": 10, "c": 13, "d": 20, "e": 22}
+        self.assertEqual(moments(Sights(list(far), 2, []), far), [(0, 2), (10, 15), (20, 24)])
+        self.assertEqual(moments(Sights(list(far), 9, []), far), [(0, 31)])
         self.assertEqual(moments(Sights(["a", "b"], 10 ** 29, []), {"a": 0, "b": 10 ** 29 + 1}), [(0, 2 * 10 ** 29 + 1)])
 
     def test_waits_of_any_sign(self):
@@ -331,7 +335,8 @@ class AfterRoundsTest(unittest.TestCase):
 
     def test_errors(self):
         good, clashing = Sights(["a"], 1, []), Sights(["a"], 1, [({"a": 0}, 5, 5)])
-        for value in [None, {}, [("a", good)], {"A": good}, {"a": None}, {"b": good}, {1: good}, {"a": Sights(["a", "b"], 1, [])}]:
+        for value in [None, {}, [("a", good)], {"A": good}, {"a": None}, {"b": good}, {1: good}, {"a": Sights(["a", "b"], 1, [])},
+                      {"a": good, "b": None}, {"a": good, "B": good}, {"a": good, "b": Sights(["a", "c"], 1, [])}]:
             with self.assertRaises(InvalidSights) as caught:
                 after_rounds(value, None, None)
             self.assertIs(caught.exception.value, value)
@@ -365,6 +370,14 @@ class LotsTest(unittest.TestCase):
             self.check_lots(sights, known)
         for _, sights, known in all_cases(10, 25, True, names="abc", most=1):
             self.check_lots(sights, known)
+
+    def test_lots_stand_in_order(self):
+        # Of two that are least, the longer one comes first here.
+        lots = [["a", "c"], ["b"]]
+        seen = Sights(["a", "b", "c"], 0, [({"a": 0, "b": 0, "c": 9}, None, 0), ({"a": 9, "b": 0, "c": 0}, None, 0)])
+        self.assertEqual([lots_seen(seen), lots_stop(seen)], [lots, [["a", "b"], ["b", "c"]]])
+        stop = Sights(["a", "b", "c"], 0, [({"a": 0, "b": 9, "c": 0}, None, 0), ({"a": 9, "b": 0, "c": 9}, None, 0)])
+        self.assertEqual([lots_seen(stop), lots_stop(stop)], [[["a", "b"], ["b", "c"]], lots])
 
     def test_no_rows(self):
         for most in [0, 3, None]:

@@ -14,7 +14,7 @@ from leafwaits.texts import read_stair, read_windows, rows_text, rule_text, run_
 from leafwaits.texts import windows_text
 from support import any_objects, random_book, random_hours, random_rule, seeded
 
-WORDS = ["first", "last", "rank", "now", "of", "none", "any", "most", "to", "ann", "b", "abcdefgh"]
+WORDS = ["first", "last", "rank", "now", "of", "none", "any", "most", "to", "ann", "b", "abcdefgh", "zaz"]
 NUMBERS = [0, 1, -1, 7, -30, 10 ** 29, -10 ** 29, 12]
 NAME, WHOLE, COUNT = "[a-z]{1,8}", "(?:0|-?[1-9][0-9]*)", "(?:0|[1-9][0-9]*)"
 ENTRIES = f"{NAME} {WHOLE}(?:, {NAME} {WHOLE})*"

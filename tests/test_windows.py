@@ -28,17 +28,32 @@ def random_windows(rng, book, most_keys=4, latest=2):
     for key in rng.sample(keys, rng.randint(0, min(most_keys, len(keys)))):
         low = rng.randint(-2, 2)
         high = low + rng.choice([0, 0, 1, 2, 3])
-        windows[key] = (rng.choice([low, None]), rng.choice([high, None]))
+        windows[key] = rng.choice([(low, high), (low, None), (None, high), (low, high), (None, None)])
     return windows
 
 
-def cases(number, many, names="ab", reach=9):
+def rich_book(rng, names, waits):
+    """A book in which each scribe goes by all of some names in several ways."""
+    rules = []
+    for at, name in enumerate(names):
+        word, inner = rng.choice([("first", "last"), ("last", "first")])
+        terms = []
+        for _ in range(rng.randint(2, 3)):
+            parts = [("of", other, rng.randint(-waits, waits)) for other in names]
+            if at and rng.random() < 0.3:
+                parts[0] = ("now", names[0], 0)
+            terms.append((inner, parts))
+        rules.append((name, Rule((word, terms))))
+    return Book(rules)
+
+
+def cases(number, many, names="ab", reach=9, latest=2):
     """Random books, windows, and for many hours the hours of the rounds 0 to 2."""
     rng = seeded(number)
     for at in range(many):
-        book = random_book(rng, names, 3, 2)
+        book = rich_book(rng, names, latest) if at % 3 else random_book(rng, names, 3, latest)
         every = [[rounds_by_definition(book, hours, round_) for round_ in range(3)] for hours in all_hours(book, reach)]
-        yield rng, book, random_windows(rng, book), every
+        yield rng, book, random_windows(rng, book, 4, latest), every
 
 
 def in_span(hour, span, by=0):
@@ -114,12 +129,18 @@ class EdgesTest(unittest.TestCase):
                                                                     for name in sorted(edge)]))
 
     def test_against_hours_one_by_one(self):
-        for _, book, windows, every in cases(2, 30):
+        many = []
+        for _, book, windows, every in cases(2, 40):
             self.check_edges(book, windows, every)
+            many += [len(ends(book, windows)), len(begins(book, windows))]
+        self.assertGreater(len([number for number in many if number > 1]), 20)
 
     def test_three_scribes(self):
-        for _, book, windows, every in cases(3, 3, "abc", 4):
-            self.check_edges(book, windows, [rounds for rounds in every])
+        many = []
+        for _, book, windows, every in cases(3, 12, "abc", 3, 1):
+            self.check_edges(book, windows, every)
+            many += [len(ends(book, windows)), len(begins(book, windows))]
+        self.assertGreater(max(many), 2)
 
     def test_boxes(self):
         for _, book, windows, every in cases(4, 20):
@@ -154,6 +175,15 @@ class SomeHoursTest(unittest.TestCase):
         self.assertEqual(answers, {True, False})
 
 
+    def test_the_least_key_is_told(self):
+        book = Book([("a", Rule(("of", "a", 0)))])
+        windows = {(1, "a"): (5, None), (0, "a"): (4, None), (2, "a"): (None, 1)}
+        self.assertEqual(why_none(book, windows), [({"a": 1}, 0, "a")])
+        self.assertEqual(first_broken(book, windows, {"a": 3}), (0, "a"))
+        self.assertEqual(why_none(DUO, {(1, "ben"): (9, None), (0, "ben"): (7, None), (0, "ann"): (None, 1), (1, "ann"): (3, 4)}),
+                         [({"ann": 1, "ben": None}, 1, "ann")])
+
+
 class RoomTest(unittest.TestCase):
     def span_of(self, values, steps):
         """The span of some values of a list that reaches from -FAR to FAR; it has no gaps."""
@@ -165,8 +195,9 @@ class RoomTest(unittest.TestCase):
     def test_against_hours_one_by_one(self):
         rng = seeded(6)
         answers = []
-        for _ in range(150):
-            book = random_book(rng, "abc"[:rng.randint(1, 3)], 3, 2)
+        for number in range(150):
+            names = "abc"[:rng.randint(1, 3)]
+            book = rich_book(rng, names, 3) if number % 2 else random_book(rng, names, 3, 2)
             windows = random_windows(rng, book)
             hours = random_hours(rng, book.names(), 5)
             steps = [-FAR] + list(range(-25, 26)) + [FAR]
